@@ -1,0 +1,1 @@
+"""Kaleidorooms: lamps that hand on their numbers, rooms between mirrors, and arrows."""

@@ -1,0 +1,79 @@
+"""Wrong values for each kind of argument, with the errors that they raise."""
+
+from kaleidorooms import errors
+from tests.helpers import NO_INTEGERS, Wrong, wrongs
+
+# Values that are of none of the kinds that a function asks for.
+ODD_VALUES = NO_INTEGERS + ["lamp", b"", [], [[]], ((),), (None,), (True,), {"a": (1,)}, -1, 10 ** 40, (1, "a"), [0, 1]]
+
+
+def unlike(values, *right):
+    """The values that are none of the right ones."""
+    return [value for value in values if not any(repr(value) == repr(one) for one in right)]
+
+
+HALL = wrongs(errors.BadHall, ODD_VALUES + [((0,),), ((0, 1), (1, 0))])
+NOTHING = []
+
+
+def lamp(hall):
+    """Wrong values of a lamp."""
+    return wrongs(errors.BadLamp, NO_INTEGERS + [-1, len(hall), 10 ** 30, "a", [1], (0, 1)])
+
+
+def numbers(hall):
+    """Wrong values of numbers and starts."""
+    many = len(hall)
+    one = (1,) * (many - 1)
+    values = ODD_VALUES + [[1] * many, (1,) * (many + 1), one, one + (True,), (False,) + one, one + (None,)]
+    values += [one + ("1",), one + ((1,),), one + ([1],), "1" * many, {lamp: 1 for lamp in range(many)}]
+    return wrongs(errors.BadNumbers, unlike(values, *([(0,)] if many == 1 else []), *([()] if many == 0 else [])))
+
+
+def wing(hall):
+    """Wrong values of a wing, of a hall whose first wing is (0, 1) and has no wing (2, 3)."""
+    values = ODD_VALUES + [[0, 1], (1, 0), (0, True), (False, 1), (0,), (0, 1, 2), (0, 0), (2, 3), (0, 1, 1), "01", {0: 1}]
+    return wrongs(errors.BadWing, unlike(values))
+
+
+def order(hall):
+    """Wrong values of an order."""
+    right = tuple(range(len(hall)))
+    values = ODD_VALUES + [list(right), right[:-1], right + (len(hall),), right[:-1] + (0,), right[:-1] + (len(hall),)]
+    values += [right[:1] + (True,) + right[2:], (-1,) + right[1:], (None,) + right[1:], ("a",) + right[1:]]
+    return wrongs(errors.BadOrder, values)
+
+
+def part_lamps(hall):
+    """Wrong values of lamps that are not none."""
+    values = unlike(ODD_VALUES, (0,)) + [[0, 1], (1, 0), (0, 0), (0, len(hall)), (-1, 0), (0, True), (False, 1), range(2)]
+    return wrongs(errors.BadLamps, values)
+
+
+def play(hall, start, right):
+    """Wrong values of a play of a start, of which a right one is told."""
+    from kaleidorooms.plays import able, behind
+
+    left = able(hall, behind(hall, start, right))
+    stuck = [one for one in range(len(hall)) if one not in left]
+    values = [None, True, 0, "", "0", [], list(right), {}, {0: 0}, range(3), (0,) * 5001, right + (None,) * 5001]
+    found = wrongs(errors.BadPlay, values, index=None)
+    things = [None, True, False, "0", (), (0,), [0], {}, -1, len(hall), 10 ** 20] + stuck
+    return found + wrongs(errors.BadPlay, [right + (thing,) for thing in things], index=len(right))
+
+
+def many():
+    """Wrong values of many."""
+    return wrongs(errors.BadMany, NO_INTEGERS + [-1, 21, 10 ** 30])
+
+
+def room(hall, *others):
+    """Wrong values of a room, others among them that are numbers."""
+    listed = [wrong.value for wrong in numbers(hall)]
+    return wrongs(errors.BadRoom, listed + [(0,) * len(hall), (1,) * (len(hall) - 1) + (2,)] + list(others))
+
+
+__all__ = [
+    "HALL", "NOTHING", "ODD_VALUES", "Wrong", "lamp", "many", "numbers", "order", "part_lamps", "play", "room",
+    "unlike", "wing",
+]

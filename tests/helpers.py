@@ -1,0 +1,178 @@
+"""Halls to test with, plain second ways to work answers out, and a way to try wrong arguments."""
+
+from itertools import product
+from random import Random
+
+from kaleidorooms.errors import HallError
+from kaleidorooms.halls import Hall
+
+
+def hall_of(many, *ties):
+    """A hall of so many lamps with ties (one, other, times, times back)."""
+    pushes = [[0] * many for _ in range(many)]
+    for one, other, times, back in ties:
+        pushes[one][other] = times
+        pushes[other][one] = back
+    return Hall(tuple(map(tuple, pushes)))
+
+
+def chain_of(many, *ties):
+    """A chain of lamps with bonds of 3, some ties told otherwise."""
+    return hall_of(many, *[(lamp, lamp + 1, 1, 1) for lamp in range(many - 1)], *ties)
+
+
+# The halls of one ending wing, by their names.
+NAMED = {
+    **{("a", many): chain_of(many) for many in range(1, 9)},
+    **{("b", many): chain_of(many, (many - 2, many - 1, 2, 1)) for many in range(2, 9)},
+    **{("c", many): chain_of(many, (many - 2, many - 1, 1, 2)) for many in range(3, 9)},
+    **{("d", many): chain_of(many, (many - 2, many - 1, 0, 0), (many - 3, many - 1, 1, 1)) for many in range(4, 9)},
+    **{("e", many): chain_of(many, (many - 2, many - 1, 0, 0), (2, many - 1, 1, 1)) for many in range(6, 9)},
+    ("f", 4): chain_of(4, (1, 2, 2, 1)),
+    ("g", 2): hall_of(2, (0, 1, 3, 1)),
+}
+
+LAMP = Hall(((0,),))
+CHAIN = chain_of(2)
+PAIR = hall_of(2, (0, 1, 2, 2))
+LEAN = hall_of(2, (0, 1, 4, 1))
+STEEP = hall_of(2, (0, 1, 3, 2))
+RING = hall_of(3, (0, 1, 1, 1), (1, 2, 1, 1), (0, 2, 1, 1))
+WILD_RING = hall_of(3, (0, 1, 1, 1), (1, 2, 1, 1), (0, 2, 1, 2))
+BENT = chain_of(3, (1, 2, 2, 1))
+MIXED = hall_of(6, (0, 2, 1, 1), (1, 4, 2, 2), (3, 5, 4, 3))
+# Two flat wings, one of them with another least load than 1 for each lamp.
+TWO_FLATS = hall_of(5, (0, 2, 4, 1), (1, 3, 1, 1), (3, 4, 1, 1), (1, 4, 1, 1))
+FULL = hall_of(8, *[(one, other, 4, 4) for one in range(8) for other in range(one)])
+ENDING_HALLS = [LAMP, CHAIN, BENT, NAMED["g", 2], NAMED["d", 4], hall_of(3, (0, 2, 1, 2)), chain_of(4, (1, 2, 0, 0))]
+ENDLESS_HALLS = [PAIR, LEAN, STEEP, RING, WILD_RING, MIXED, TWO_FLATS]
+SOME_HALLS = ENDING_HALLS + ENDLESS_HALLS
+
+
+def small_halls(many, most):
+    """All halls of so many lamps of which none is pushed more than most times."""
+    pairs = [(one, other) for other in range(many) for one in range(other)]
+    ways = [(0, 0)] + [(times, back) for times in range(1, most + 1) for back in range(1, most + 1)]
+    for chosen in product(ways, repeat=len(pairs)):
+        yield hall_of(many, *[pair + way for pair, way in zip(pairs, chosen)])
+
+
+def random_hall(dice, many, most=4, tied=0.5):
+    """A hall of so many lamps, by dice."""
+    pairs = [(one, other) for other in range(many) for one in range(other) if dice.random() < tied]
+    return hall_of(many, *[pair + (dice.randint(1, most), dice.randint(1, most)) for pair in pairs])
+
+
+def random_numbers(dice, hall, far=3):
+    """Numbers for a hall, by dice."""
+    return tuple([dice.randint(-far, far) for _ in range(len(hall))])
+
+
+def dice_of(seed):
+    """Dice that fall alike each time."""
+    return Random(seed)
+
+
+def pressed_plainly(hall, numbers, lamp):
+    """The numbers behind the wall of a lamp, told word by word as in the document."""
+    after = list(numbers)
+    for other in range(len(hall)):
+        if other != lamp:
+            for _ in range(hall.pushes[lamp][other]):
+                after[other] += numbers[lamp]
+    after[lamp] = -numbers[lamp]
+    return tuple(after)
+
+
+def led_plainly(hall, numbers, word):
+    """The numbers behind the walls of a word."""
+    for lamp in word:
+        numbers = pressed_plainly(hall, numbers, lamp)
+    return numbers
+
+
+def all_plays(hall, start, most):
+    """All plays of a start, ended or not, of at most so many presses, with the numbers behind them."""
+    rows = [((), start)]
+    found = []
+    while rows:
+        found.extend(rows)
+        rows = [
+            (play + (lamp,), pressed_plainly(hall, numbers, lamp))
+            for play, numbers in rows
+            for lamp in range(len(hall))
+            if numbers[lamp] < 0 and len(play) < most
+        ]
+    return found
+
+
+def rooms_to(hall, far):
+    """All rooms up to a distance, each with its distance, by going through all walls."""
+    known = {(1,) * len(hall): 0}
+    level = list(known)
+    for distance in range(1, far + 1):
+        after = []
+        for room in level:
+            for lamp in range(len(hall)):
+                beyond = pressed_plainly(hall, room, lamp)
+                if beyond not in known:
+                    known[beyond] = distance
+                    after.append(beyond)
+        level = after
+    return known
+
+
+NO_INTEGERS = [None, True, False, "0", "", (), (0,), [0], {0: 0}, {}]
+
+
+class Wrong:
+    """A value that is wrong as an argument, with the error that it must raise."""
+
+    def __init__(self, value, error, **fields):
+        self.value = value
+        self.error = error
+        self.fields = fields
+
+    def __repr__(self):
+        return f"{self.value!r:.80}"
+
+
+def wrongs(error, values, **fields):
+    """Several wrong values that raise one error."""
+    return [Wrong(value, error, **fields) for value in values]
+
+
+def catch(function, arguments):
+    """The error that a call raises."""
+    try:
+        answer = function(*arguments)
+    except HallError as error:
+        return error
+    raise AssertionError(f"{function.__name__}{arguments!r:.300} raised nothing, but answered {answer!r:.200}")
+
+
+def expect_error(test, function, arguments, error, **fields):
+    """Tests that a call raises just this error with these fields, and leaves its arguments alone."""
+    before = repr([getattr(argument, "pushes", argument) for argument in arguments])
+    raised = catch(function, arguments)
+    told = f"{function.__name__}{before:.300}"
+    test.assertIs(error, raised.__class__, told)
+    test.assertEqual(fields, vars(raised), told)
+    test.assertEqual(before, repr([getattr(argument, "pushes", argument) for argument in arguments]))
+
+
+def try_wrongs(test, function, good, wrong_lists):
+    """Tries each wrong value of each argument, the later arguments right, then wrong as well.
+
+    good are right arguments; wrong_lists has, for each argument, its wrong values (empty for one of which
+    any value may be asked).
+    """
+    function(*good)
+    for place, listed in enumerate(wrong_lists):
+        later_wrong = [
+            later[0].value if later else value for later, value in zip(wrong_lists[place + 1:], good[place + 1:])
+        ]
+        for wrong in listed:
+            for later in (list(good[place + 1:]), later_wrong):
+                arguments = list(good[:place]) + [wrong.value] + later
+                expect_error(test, function, arguments, wrong.error, **wrong.fields)

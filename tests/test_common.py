@@ -1,0 +1,101 @@
+"""Point 1: what holds of all functions."""
+
+import copy
+import unittest
+from inspect import getmembers, isfunction, signature
+
+from kaleidorooms import halls, loads, plays, rooms
+from kaleidorooms.halls import Hall, part_of, renamed
+from tests.helpers import CHAIN, MIXED, PAIR, RING, expect_error, hall_of
+from kaleidorooms import errors
+
+RIGHT = {
+    halls.neighbours: [CHAIN, 0], halls.wings: [MIXED], halls.bond: [CHAIN, 0, 1], halls.part_of: [MIXED, (0, 2)],
+    halls.renamed: [PAIR, (1, 0)], loads.kind: [RING, (0, 1, 2)], loads.kinds: [MIXED], loads.load: [RING, (0, 1, 2)],
+    loads.shows_kind: [RING, (0, 1, 2), ["flat", [1, {1: [2]}]]], loads.name_of: [CHAIN, (0, 1)],
+    plays.able: [CHAIN, (-1, 2)], plays.pressed: [CHAIN, (-1, 2), 0], plays.behind: [CHAIN, (-1, 2), (0,)],
+    plays.never_paper: [PAIR, (1, -1)], plays.shows_never: [PAIR, (1, -1), [[0, 1], [1, 1]]],
+    plays.end: [CHAIN, (-1, -2)], plays.first_play: [CHAIN, (-1, -2)], plays.handed: [CHAIN, (-1, -2)],
+    plays.presses: [CHAIN, (-1, -2)], plays.count_plays: [CHAIN, (-1, -2)], plays.all_numbers: [CHAIN, (-1, -2)],
+    plays.starts_to: [CHAIN, (1, 0), 2], rooms.first_room: [CHAIN], rooms.is_room: [CHAIN, [1, [1]]],
+    rooms.through: [CHAIN, (1, 1), 0], rooms.distance: [CHAIN, (-1, -1)], rooms.walls_home: [CHAIN, (-1, -1)],
+}
+NAMES = {
+    "neighbours": "hall lamp", "wings": "hall", "bond": "hall one other", "part_of": "hall lamps",
+    "renamed": "hall order", "kind": "hall wing", "kinds": "hall", "load": "hall wing",
+    "shows_kind": "hall wing value", "name_of": "hall wing", "able": "hall numbers", "pressed": "hall numbers lamp",
+    "behind": "hall start play", "never_paper": "hall start", "shows_never": "hall start value", "end": "hall start",
+    "first_play": "hall start", "handed": "hall start", "presses": "hall start", "count_plays": "hall start",
+    "all_numbers": "hall start", "starts_to": "hall numbers many", "first_room": "hall", "is_room": "hall value",
+    "through": "hall room lamp", "distance": "hall room", "walls_home": "hall room",
+}
+
+
+def plain(value):
+    """A value in which halls are told by their pushes."""
+    if isinstance(value, Hall):
+        return ("hall", value.pushes)
+    if isinstance(value, (list, tuple)):
+        return value.__class__([plain(thing) for thing in value])
+    return value
+
+
+def scrambled(value):
+    """Changes a returned list as a caller may."""
+    if isinstance(value, list):
+        value.append("scrambled")
+        value.reverse()
+
+
+class Common(unittest.TestCase):
+    def test_names_of_arguments(self):
+        self.assertEqual(sorted(NAMES), sorted(function.__name__ for function in RIGHT))
+        for function in RIGHT:
+            self.assertEqual(NAMES[function.__name__].split(), list(signature(function).parameters))
+            listed = [name for name, _ in getmembers(__import__(function.__module__, fromlist=["x"]), isfunction)]
+            self.assertIn(function.__name__, listed)
+
+    def test_arguments_are_not_changed(self):
+        for function, arguments in RIGHT.items():
+            before = plain(copy.deepcopy(arguments))
+            function(*arguments)
+            self.assertEqual(before, plain(arguments), function.__name__)
+
+    def test_returned_lists_are_new(self):
+        for function, arguments in RIGHT.items():
+            answer = function(*arguments)
+            kept = plain(copy.deepcopy(answer))
+            scrambled(answer)
+            self.assertEqual(kept, plain(function(*arguments)), function.__name__)
+
+    def test_equal_values_have_equal_answers(self):
+        for function, arguments in RIGHT.items():
+            hall = arguments[0]
+            everyone = tuple(range(len(hall)))
+            answer = plain(function(*arguments))
+            others = [Hall(tuple([tuple(list(row)) for row in hall.pushes])), part_of(hall, everyone)]
+            others.append(renamed(renamed(hall, everyone[::-1]), everyone[::-1]))
+            for other in others:
+                again = [other] + copy.deepcopy(arguments[1:])
+                self.assertEqual(answer, plain(function(*again)), function.__name__)
+                self.assertEqual(answer, plain(function(**dict(zip(signature(function).parameters, again)))))
+
+    def test_a_call_that_raises_changes_nothing(self):
+        numbers = [-1, -2]
+        expect_error(self, plays.pressed, [CHAIN, numbers, 0], errors.BadNumbers)
+        self.assertEqual([-1, -2], numbers)
+        value = [["flat"], {"a": [1]}]
+        loads.shows_kind(RING, (0, 1, 2), value)
+        plays.shows_never(RING, (0, 0, 0), value)
+        rooms.is_room(RING, value)
+        self.assertEqual([["flat"], {"a": [1]}], value)
+
+    def test_halls_have_no_setter(self):
+        hall = hall_of(2, (0, 1, 1, 1))
+        with self.assertRaises(AttributeError):
+            hall.pushes = ((0, 2), (2, 0))
+        self.assertEqual(((0, 1), (1, 0)), hall.pushes)
+
+
+if __name__ == "__main__":
+    unittest.main()
