@@ -1,7 +1,7 @@
 """Wrong values for each kind of argument, with the errors that they raise."""
 
 from kaleidorooms import errors
-from tests.helpers import NO_INTEGERS, Wrong, wrongs
+from tests.helpers import ENDLESS_HALLS, FULL, NO_INTEGERS, Wrong, wrongs
 
 # Values that are of none of the kinds that a function asks for.
 ODD_VALUES = NO_INTEGERS + ["lamp", b"", [], [[]], ((),), (None,), (True,), {"a": (1,)}, -1, 10 ** 40, (1, "a"), [0, 1]]
@@ -27,13 +27,13 @@ def numbers(hall):
     one = (1,) * (many - 1)
     values = ODD_VALUES + [[1] * many, (1,) * (many + 1), one, one + (True,), (False,) + one, one + (None,)]
     values += [one + ("1",), one + ((1,),), one + ([1],), "1" * many, {lamp: 1 for lamp in range(many)}]
-    return wrongs(errors.BadNumbers, unlike(values, *([(0,)] if many == 1 else []), *([()] if many == 0 else [])))
+    return wrongs(errors.BadNumbers, unlike(values, (0,)) if many == 1 else values)
 
 
 def wing(hall):
     """Wrong values of a wing, of a hall whose first wing is (0, 1) and has no wing (2, 3)."""
-    values = ODD_VALUES + [[0, 1], (1, 0), (0, True), (False, 1), (0,), (0, 1, 2), (0, 0), (2, 3), (0, 1, 1), "01", {0: 1}]
-    return wrongs(errors.BadWing, unlike(values))
+    values = ODD_VALUES + [[0, 1], (1, 0), (0, True), (False, 1), (0,), (0, 1, 2), (0, 0), (2, 3), (0, 1, 1), "01"]
+    return wrongs(errors.BadWing, values + [{0: 1}, (0, len(hall)), ((0, 1),)])
 
 
 def order(hall):
@@ -46,8 +46,8 @@ def order(hall):
 
 def part_lamps(hall):
     """Wrong values of lamps that are not none."""
-    values = unlike(ODD_VALUES, (0,)) + [[0, 1], (1, 0), (0, 0), (0, len(hall)), (-1, 0), (0, True), (False, 1), range(2)]
-    return wrongs(errors.BadLamps, values)
+    values = [[0, 1], (1, 0), (0, 0), (0, len(hall)), (-1, 0), (0, True), (False, 1), range(2)]
+    return wrongs(errors.BadLamps, unlike(ODD_VALUES, (0,)) + values)
 
 
 def play(hall, start, right):
@@ -73,7 +73,40 @@ def room(hall, *others):
     return wrongs(errors.BadRoom, listed + [(0,) * len(hall), (1,) * (len(hall) - 1) + (2,)] + list(others))
 
 
+def word(hall, *right):
+    """Wrong values of a word, that begin with a right one where the index is told."""
+    lamps = tuple(right)
+    values = [None, True, 0, "", "0", [], list(lamps), {}, {0: 0}, (0,) * 61, (None,) * 61, range(2), b"", -1]
+    found = wrongs(errors.BadWord, values, index=None)
+    for thing in [None, True, False, "0", (), (0,), [0], {}, -1, len(hall), 10 ** 20]:
+        found += wrongs(errors.BadWord, [lamps + (thing,), lamps + (thing, 0, thing)], index=len(lamps))
+        found += wrongs(errors.BadWord, [(thing,) + (0,) * 59], index=0)
+    return found
+
+
+def arrow(hall, *others):
+    """Wrong values of an arrow, others among them that are numbers."""
+    many = len(hall)
+    listed = [wrong.value for wrong in numbers(hall)]
+    values = [(0,) * many, (2,) + (0,) * (many - 1), (10 ** 30,) * many, (-3,) + (0,) * (many - 1)] + list(others)
+    return wrongs(errors.BadArrow, listed + values)
+
+
+def lot(hall, right, *others):
+    """Wrong values of a lot, of which one that is right, not empty, is told; others are no arrows that point up."""
+    values = [None, True, 0, 1, "", "ab", {}, {right[0]: True}, -1, range(0), b""]
+    found = wrongs(errors.BadArrows, values, index=None)
+    things = [wrong.value for wrong in arrow(hall)] + [tuple([-own for own in right[0]])] + list(others)
+    for thing in things + [right[0]]:
+        found += wrongs(errors.BadArrows, [list(right) + [thing], tuple(right) + (thing, None)], index=len(right))
+    for thing in things:
+        found += wrongs(errors.BadArrows, [[thing, right[0], right[0]], (thing,)], index=0)
+    return found
+
+
+NOT_ENDING = HALL + wrongs(errors.NotEnding, ENDLESS_HALLS + [FULL])
+
 __all__ = [
-    "HALL", "NOTHING", "ODD_VALUES", "Wrong", "lamp", "many", "numbers", "order", "part_lamps", "play", "room",
-    "unlike", "wing",
+    "HALL", "NOTHING", "NOT_ENDING", "ODD_VALUES", "Wrong", "arrow", "lamp", "lot", "many", "numbers", "order",
+    "part_lamps", "play", "room", "unlike", "wing", "word",
 ]

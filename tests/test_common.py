@@ -4,11 +4,11 @@ import copy
 import unittest
 from inspect import getmembers, isfunction, signature
 
-from kaleidorooms import halls, loads, plays, rooms
+from kaleidorooms import (
+    arrows, errors, halls, heights, loads, mirrors, moves, plays, rooms, shortwords, words,
+)
 from kaleidorooms.halls import Hall, part_of, renamed
-from tests.helpers import CHAIN, MIXED, PAIR, RING, expect_error, hall_of
-from kaleidorooms import errors
-
+from tests.helpers import BENT, CHAIN, MIXED, PAIR, RING, expect_error, hall_of
 RIGHT = {
     halls.neighbours: [CHAIN, 0], halls.wings: [MIXED], halls.bond: [CHAIN, 0, 1], halls.part_of: [MIXED, (0, 2)],
     halls.renamed: [PAIR, (1, 0)], loads.kind: [RING, (0, 1, 2)], loads.kinds: [MIXED], loads.load: [RING, (0, 1, 2)],
@@ -19,6 +19,19 @@ RIGHT = {
     plays.presses: [CHAIN, (-1, -2)], plays.count_plays: [CHAIN, (-1, -2)], plays.all_numbers: [CHAIN, (-1, -2)],
     plays.starts_to: [CHAIN, (1, 0), 2], rooms.first_room: [CHAIN], rooms.is_room: [CHAIN, [1, [1]]],
     rooms.through: [CHAIN, (1, 1), 0], rooms.distance: [CHAIN, (-1, -1)], rooms.walls_home: [CHAIN, (-1, -1)],
+    words.go: [RING, (0, 1)], words.same_room: [CHAIN, (0, 1, 0), (1, 0, 1)], words.is_short: [PAIR, (0, 1)],
+    words.short_word: [CHAIN, (-1, -1)], words.first_letters: [CHAIN, (-1, -1)], words.back_room: [CHAIN, (1, -2)],
+    words.dropped: [BENT, (1, 0, 1), 0], shortwords.count_short: [CHAIN, (-1, -1)],
+    shortwords.all_short: [CHAIN, (-1, -1)], shortwords.short_at: [CHAIN, (-1, -1), 1],
+    shortwords.short_place: [CHAIN, (1, 0, 1)], moves.after_move: [BENT, (0, 1, 0), ("turn", 0, 0, 1)],
+    moves.moves_between: [CHAIN, (0, 1, 0), (1, 0, 1, 0, 0)],
+    moves.shows_moves: [CHAIN, (0, 0), (), [("short", 0), ["short", [0]]]], arrows.is_arrow: [BENT, [1, [1], {}]],
+    arrows.arrows: [BENT], arrows.turned_arrow: [BENT, (0, 0, 1), 1], arrows.way_to_unit: [BENT, (2, 2, 1)],
+    arrows.shows_way: [BENT, (2, 2, 1), [0, [1]]], arrows.greatest_arrow: [BENT, (0, 1, 2)],
+    arrows.arrow_sum: [BENT, (1, 2, 1), (1, -1, 3)], mirrors.mirrors_of: [CHAIN, (-1, -1)],
+    mirrors.room_of: [CHAIN, [(1, 1), (1, 0)]], mirrors.why_not: [CHAIN, [(1, 1)]],
+    mirrors.shows_why: [CHAIN, [(1, 1)], [(1, 0), [0, 1], (1, 1)]], heights.heights: [BENT], heights.steps: [BENT],
+    heights.count_rooms: [BENT], heights.rooms_by_distance: [BENT],
 }
 NAMES = {
     "neighbours": "hall lamp", "wings": "hall", "bond": "hall one other", "part_of": "hall lamps",
@@ -27,7 +40,15 @@ NAMES = {
     "behind": "hall start play", "never_paper": "hall start", "shows_never": "hall start value", "end": "hall start",
     "first_play": "hall start", "handed": "hall start", "presses": "hall start", "count_plays": "hall start",
     "all_numbers": "hall start", "starts_to": "hall numbers many", "first_room": "hall", "is_room": "hall value",
-    "through": "hall room lamp", "distance": "hall room", "walls_home": "hall room",
+    "through": "hall room lamp", "distance": "hall room", "walls_home": "hall room", "go": "hall word",
+    "same_room": "hall one other", "is_short": "hall word", "short_word": "hall room", "first_letters": "hall room",
+    "back_room": "hall room", "dropped": "hall word lamp", "count_short": "hall room", "all_short": "hall room",
+    "short_at": "hall room number", "short_place": "hall word", "after_move": "hall word move",
+    "moves_between": "hall one other", "shows_moves": "hall one other value", "is_arrow": "hall value",
+    "arrows": "hall", "turned_arrow": "hall arrow lamp", "way_to_unit": "hall arrow", "shows_way": "hall arrow value",
+    "greatest_arrow": "hall wing", "arrow_sum": "hall arrow numbers", "mirrors_of": "hall room",
+    "room_of": "hall lot", "why_not": "hall lot", "shows_why": "hall lot value", "heights": "hall", "steps": "hall",
+    "count_rooms": "hall", "rooms_by_distance": "hall",
 }
 
 
@@ -88,7 +109,13 @@ class Common(unittest.TestCase):
         loads.shows_kind(RING, (0, 1, 2), value)
         plays.shows_never(RING, (0, 0, 0), value)
         rooms.is_room(RING, value)
+        moves.shows_moves(RING, (0,), (0,), value)
+        arrows.shows_way(CHAIN, (1, 0), value)
+        mirrors.shows_why(CHAIN, [], value)
         self.assertEqual([["flat"], {"a": [1]}], value)
+        lot = [(1, 1), (0, 1), (1, 1)]
+        expect_error(self, mirrors.room_of, [CHAIN, lot], errors.BadArrows, index=2)
+        self.assertEqual([(1, 1), (0, 1), (1, 1)], lot)
 
     def test_halls_have_no_setter(self):
         hall = hall_of(2, (0, 1, 1, 1))

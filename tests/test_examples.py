@@ -40,7 +40,7 @@ class Examples(unittest.TestCase):
 
     def test_examples(self):
         files = sorted(FOLDER.glob("*.txt"))
-        self.assertGreaterEqual(len(files), 4)
+        self.assertEqual(10, len(files))
         for file in files:
             for block in file.read_text().split("\n\n"):
                 with self.subTest(file.stem):

@@ -7,15 +7,17 @@ from pathlib import Path
 
 PACKAGE = Path(__file__).parent.parent / "kaleidorooms"
 BUILTINS = set(
-    "len range enumerate zip min max sum abs sorted reversed int str bool bytes list tuple dict set frozenset isinstance"
-    " ord repr any all divmod pow Exception ValueError TypeError KeyError IndexError LookupError ZeroDivisionError"
-    " ArithmeticError OverflowError RuntimeError NotImplementedError AttributeError StopIteration NotImplemented map"
-    " iter next".split()
+    "len range enumerate zip min max sum abs sorted reversed int str bool bytes list tuple dict set frozenset"
+    " isinstance ord repr any all divmod pow Exception ValueError TypeError KeyError IndexError LookupError"
+    " ZeroDivisionError ArithmeticError OverflowError RuntimeError NotImplementedError AttributeError"
+    " StopIteration NotImplemented map iter next".split()
 )
 LIBRARY = {
     "heapq": {"heappush", "heappop", "heapify", "heapreplace", "heappushpop"},
     "math": {"gcd", "lcm", "isqrt", "comb", "perm", "factorial"},
-    "itertools": {"product", "combinations", "permutations", "chain", "accumulate", "pairwise", "islice", "zip_longest"},
+    "itertools": set(
+        "product combinations permutations chain accumulate pairwise islice zip_longest".split()
+    ),
     "collections": {"defaultdict", "deque"},
 }
 BARRED_NAMES = set(
@@ -25,9 +27,9 @@ BARRED_NAMES = set(
     " globals hasattr help id importlib license locals methodcaller os quit setattr super vars sys".split()
 )
 METHODS = set(
-    "append clear copy count endswith extend find get index insert isalnum isalpha isdigit islower isspace isupper items"
-    " join keys ljust lower lstrip partition pop remove replace reverse rfind rjust rpartition rsplit rstrip setdefault"
-    " split splitlines startswith strip update upper values zfill bit_length add discard".split()
+    "append clear copy count endswith extend find get index insert isalnum isalpha isdigit islower isspace isupper"
+    " items join keys ljust lower lstrip partition pop remove replace reverse rfind rjust rpartition rsplit rstrip"
+    " setdefault split splitlines startswith strip update upper values zfill bit_length add discard".split()
 )
 STATEMENTS = (
     ast.Assign, ast.AugAssign, ast.If, ast.While, ast.For, ast.Return, ast.Break, ast.Continue, ast.Pass, ast.Raise,
@@ -156,8 +158,9 @@ class Language(unittest.TestCase):
 
     def test_calls(self):
         taking_lists = {"any", "all", "min", "max", "sum", "sorted"}
-        for file, text, tree in parsed():
-            own = {node.name for _, _, other in parsed() for node in ast.walk(other) if isinstance(node, ast.FunctionDef)}
+        functions = [node for _, _, tree in parsed() for node in ast.walk(tree) if isinstance(node, ast.FunctionDef)]
+        own = {node.name for node in functions}
+        for file, _, tree in parsed():
             generated = [node for node in ast.walk(tree) if isinstance(node, ast.GeneratorExp)]
             for node in ast.walk(tree):
                 if not isinstance(node, ast.Call):

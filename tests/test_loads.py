@@ -76,7 +76,8 @@ class Kinds(unittest.TestCase):
         self.assertEqual((1, 1, 1), load(RING, (0, 1, 2)))
         self.assertEqual((2, 1), load(TWO_FLATS, (0, 2)))
         self.assertEqual((1, 1, 1), load(TWO_FLATS, (1, 3, 4)))
-        self.assertEqual((2, 1, 1, 1, 1), load(hall_of(5, *[(0, other, 1, 1) for other in range(1, 5)]), tuple(range(5))))
+        star = hall_of(5, *[(0, other, 1, 1) for other in range(1, 5)])
+        self.assertEqual((2, 1, 1, 1, 1), load(star, (0, 1, 2, 3, 4)))
         self.assertEqual((46, 91, 135, 110, 84, 57, 29, 68), load(NAMED["e", 8], tuple(range(8))))
 
     def test_loads_are_least(self):

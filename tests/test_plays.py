@@ -288,14 +288,19 @@ class Starts(unittest.TestCase):
         expect_error(self, starts_to, [NAMED["a", 8], (1,) * 8, 7], errors.TooMany, most=2000)
         self.assertEqual(1230, len(starts_to(NAMED["a", 8], (1,) * 8, 6)))
 
+    def test_just_2000_starts(self):
+        hall = hall_of(7, *[(one, other, 2, 2) for one in range(5) for other in range(one)])
+        self.assertEqual(2000, len(starts_to(hall, (1,) * 7, 5)))
+        expect_error(self, starts_to, [hall, (1,) * 7, 6], errors.TooMany, most=2000)
+
     def test_too_many_behind_fewer_presses(self):
         hall = hall_of(8, *[(lamp, lamp + 1, 3, 1) for lamp in range(0, 8, 2)])
         counts = [1]
         for _ in range(4):
-            counts = [
-                sum(counts[at - step] * times for step, times in enumerate((1, 2, 2, 2, 2, 2, 1)) if 0 <= at - step < len(counts))
-                for at in range(len(counts) + 6)
-            ]
+            after = [0] * (len(counts) + 6)
+            for at, step in product(range(len(counts)), range(7)):
+                after[at + step] += counts[at] * (1, 2, 2, 2, 2, 2, 1)[step]
+            counts = after
         first = min(at for at, count in enumerate(counts) if count > 2000)
         self.assertEqual(counts[:first], [len(starts_to(hall, (1,) * 8, many)) for many in range(first)])
         self.assertLess(counts[20], 200)

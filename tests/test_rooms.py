@@ -76,8 +76,9 @@ class Rooms(unittest.TestCase):
             self.assertEqual((), walls_home(hall, first_room(hall)))
 
     def test_is_room_of_any_value(self):
-        values = arguments.ODD_VALUES + [[1, 1], (1, True), (True, True), (1,), (1, 1, 1), (1, "1"), (1, None), (0, 0)]
-        for value in values + [(1, 0), (1, (1,)), {0: 1, 1: 1}, "11", (10 ** 40, 1), (1, [1]), (-10 ** 40, -(10 ** 50))]:
+        values = [[1, 1], (1, True), (True, True), (1,), (1, 1, 1), (1, "1"), (1, None), (0, 0), (1, 0), (1, (1,))]
+        values += [{0: 1, 1: 1}, "11", (10 ** 40, 1), (1, [1]), (-10 ** 40, -10 ** 50)]
+        for value in arguments.ODD_VALUES + values:
             self.assertIs(False, is_room(CHAIN, value), value)
 
     def test_wrong_arguments(self):

@@ -1,0 +1,54 @@
+"""Heights of arrows, the steps that they make, and rooms counted by these (point 21)."""
+
+from kaleidorooms.arrows import need_ending, up_arrows
+
+
+def heights(hall):
+    """How many arrows that point up have the height 1, 2 and so on."""
+    need_ending(hall)
+    return arrows_by_height(hall)
+
+
+def arrows_by_height(hall):
+    """How many arrows that point up have the height 1, 2 and so on."""
+    told = [sum(arrow) for arrow in up_arrows(hall)]
+    return tuple([told.count(height) for height in range(1, max(told) + 1)])
+
+
+def steps(hall):
+    """The ascending tuple of the numbers, one for each lamp, of which as many as heights tells are at least so high."""
+    need_ending(hall)
+    return steps_of(hall)
+
+
+def steps_of(hall):
+    """The steps: the last lamp has as many as there are heights of all lamps' many arrows, and so on."""
+    told = arrows_by_height(hall)
+    return tuple([len([many for many in told if many >= least]) for least in range(len(hall), 0, -1)])
+
+
+def count_rooms(hall):
+    """How many rooms there are."""
+    need_ending(hall)
+    many = 1
+    for step in steps_of(hall):
+        many = many * (step + 1)
+    return many
+
+
+def rooms_by_distance(hall):
+    """How many rooms are at the distance 0, 1 and so on."""
+    need_ending(hall)
+    counts = [1]
+    for step in steps_of(hall):
+        counts = with_step(counts, step)
+    return tuple(counts)
+
+
+def with_step(counts, step):
+    """How many ways there are to make each sum, if an integer from 0 to a step is added to what is counted."""
+    after = [0] * (len(counts) + step)
+    for far, many in enumerate(counts):
+        for more in range(step + 1):
+            after[far + more] = after[far + more] + many
+    return after
