@@ -22,7 +22,7 @@ def steps(hall):
 
 
 def steps_of(hall):
-    """The steps: the last lamp has as many as there are heights of all lamps' many arrows, and so on."""
+    """The steps: for as many arrows as there are lamps, and for one less each time, how many heights have so many."""
     told = arrows_by_height(hall)
     return tuple([len([many for many in told if many >= least]) for least in range(len(hall), 0, -1)])
 
