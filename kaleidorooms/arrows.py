@@ -3,7 +3,7 @@
 from kaleidorooms.errors import BadArrow, NotEnding
 from kaleidorooms.halls import is_lamp, need_hall, need_lamp, wings
 from kaleidorooms.loads import ENDING, kind_of, need_wing
-from kaleidorooms.plays import is_numbers, need_numbers
+from kaleidorooms.plays import crossed, is_numbers, need_numbers
 
 
 def need_ending(hall):
@@ -25,27 +25,41 @@ def units(hall):
     return [(0,) * lamp + (1,) + (0,) * (many - lamp - 1) for lamp in range(many)]
 
 
-def opposite_arrow(arrow):
-    """An arrow with all its signs turned."""
-    return tuple([-own for own in arrow])
+def signs_turned(integers):
+    """The integers of an arrow, or of a room, with turned signs."""
+    return tuple([-own for own in integers])
+
+
+def turned_by(hall, arrow, lamps):
+    """An arrow turned by lamps, one by one."""
+    for lamp in lamps:
+        arrow = turned(hall, arrow, lamp)
+    return arrow
 
 
 def up_arrows(hall):
     """All arrows that point up, in their order, as the keys of a dict.
 
-    To each one comes from some unit by turnings between arrows that point up.
+    Each is given what going over its mirror takes off numbers, for each 1 of their sum by the arrow. To each
+    one comes from some unit by turnings between arrows that point up.
     """
-    found = {unit: True for unit in units(hall)}
+    found = {unit: taken_off(hall, lamp) for lamp, unit in enumerate(units(hall))}
     fresh = list(found)
     while fresh:
         arrow = fresh.pop()
         for lamp in range(len(hall)):
             other = turned(hall, arrow, lamp)
             if other[lamp] >= 0 and other not in found:
-                found[other] = True
+                # To go over the other mirror is to go through the wall, over this mirror, and back through the wall.
+                found[other] = crossed(hall, found[arrow], lamp)
                 fresh.append(other)
     ordered = sorted([(sum(arrow), arrow) for arrow in found])
-    return {arrow: True for _, arrow in ordered}
+    return {arrow: found[arrow] for _, arrow in ordered}
+
+
+def taken_off(hall, lamp):
+    """What going through the wall of a lamp takes off numbers, for each 1 of the lamp's number."""
+    return tuple([2 if at == lamp else -times for at, times in enumerate(hall.pushes[lamp])])
 
 
 def is_arrow(hall, value):
@@ -56,7 +70,7 @@ def is_arrow(hall, value):
 
 def is_one_of(hall, ups, value):
     """Whether a value is one of the arrows that point up, or the opposite of one."""
-    return is_numbers(hall, value) and (value in ups or opposite_arrow(value) in ups)
+    return is_numbers(hall, value) and (value in ups or signs_turned(value) in ups)
 
 
 def need_arrow(hall, arrow):
@@ -114,6 +128,11 @@ def way_to_unit(hall, arrow):
     """The least of the shortest tuples of lamps by which an arrow becomes a unit."""
     need_ending(hall)
     need_arrow(hall, arrow)
+    return way_of(hall, arrow)
+
+
+def way_of(hall, arrow):
+    """The way that way_to_unit is."""
     far = turns_to_unit(hall)
     way = []
     while far[arrow] > 0:
@@ -129,9 +148,7 @@ def shows_way(hall, arrow, value):
     need_arrow(hall, arrow)
     if not isinstance(value, tuple) or not all([is_lamp(hall, lamp) for lamp in value]):
         return False
-    for lamp in value:
-        arrow = turned(hall, arrow, lamp)
-    return arrow in units(hall)
+    return turned_by(hall, arrow, value) in units(hall)
 
 
 def greatest_arrow(hall, wing):

@@ -1,6 +1,6 @@
 """Halls: which lamps push which ones, and how many times (point 2)."""
 
-from kaleidorooms.checks import is_integer_between, is_integers
+from kaleidorooms.checks import is_ascending, is_integer_between, is_integers
 from kaleidorooms.errors import BadHall, BadLamp, BadLamps, BadOrder, BadPushes, Lopsided
 
 MOST_LAMPS = 8
@@ -71,9 +71,20 @@ def need_lamp(hall, lamp):
 
 def is_lamps(hall, value):
     """Whether a value is an ascending tuple of unlike lamps of a hall, perhaps empty."""
-    if not isinstance(value, tuple) or not all([is_lamp(hall, lamp) for lamp in value]):
-        return False
-    return all([one < other for one, other in zip(value, value[1:])])
+    return is_ascending(value, len(hall))
+
+
+def need_lamps(hall, lamps):
+    """Raises BadLamps for any value that is no ascending tuple of unlike lamps of a hall, perhaps empty."""
+    if not is_lamps(hall, lamps):
+        raise BadLamps()
+
+
+def need_some_lamps(hall, lamps):
+    """Raises BadLamps for any value that is no ascending tuple of unlike lamps of a hall, and for none."""
+    need_lamps(hall, lamps)
+    if not lamps:
+        raise BadLamps()
 
 
 def neighbours(hall, lamp):
@@ -134,8 +145,7 @@ def bond_of(hall, one, other):
 def part_of(hall, lamps):
     """The hall of some lamps, in their order."""
     need_hall(hall)
-    if not is_lamps(hall, lamps) or not lamps:
-        raise BadLamps()
+    need_some_lamps(hall, lamps)
     return picked(hall, lamps)
 
 

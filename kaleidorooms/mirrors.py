@@ -2,8 +2,9 @@
 
 from kaleidorooms.arrows import need_ending, sum_by, turned, units, up_arrows
 from kaleidorooms.errors import BadArrows
-from kaleidorooms.plays import crossed, is_numbers
-from kaleidorooms.rooms import first_numbers, need_room
+from kaleidorooms.plays import is_numbers
+from kaleidorooms.rooms import need_room
+from kaleidorooms.words import room_behind
 
 
 def mirrors_of(hall, room):
@@ -45,10 +46,7 @@ def room_of(hall, lot):
         lamp = lamps[0]
         inside = [turned(hall, arrow, lamp) for arrow in inside if arrow != first_ones[lamp]]
         play.append(lamp)
-    room = first_numbers(hall)
-    for lamp in reversed(play):
-        room = crossed(hall, room, lamp)
-    return room
+    return room_behind(hall, play[::-1])
 
 
 def both_together(one, other):

@@ -218,7 +218,7 @@ def starts_to(hall, numbers, many):
         raise BadMany()
     rows = [numbers]
     for _ in range(many):
-        rows = back_from(hall, rows)
+        rows = back_from(hall, rows, range(len(hall)))
         if len(rows) > MOST_NUMBERS:
             raise TooMany(MOST_NUMBERS)
     return rows
@@ -230,12 +230,12 @@ def need_end(numbers):
         raise BadEnd()
 
 
-def back_from(hall, rows):
-    """The ascending list of the numbers from which one press leads to some numbers, each once."""
+def back_from(hall, rows, lamps):
+    """The ascending list of the numbers from which one press of one of some lamps leads to some numbers, each once."""
     found = {}
     for numbers in rows:
-        for lamp, number in enumerate(numbers):
+        for lamp in lamps:
             # Through a wall twice leads back; a press leaves its lamp with a number above 0.
-            if number > 0:
+            if numbers[lamp] > 0:
                 found[crossed(hall, numbers, lamp)] = True
     return sorted(found)

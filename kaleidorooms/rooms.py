@@ -4,6 +4,8 @@ from kaleidorooms.errors import BadRoom
 from kaleidorooms.halls import need_hall, need_lamp
 from kaleidorooms.plays import below_lamps, crossed, is_numbers, play_out
 
+MOST_ROOMS = 2000
+
 
 def first_room(hall):
     """The numbers that are 1 for all lamps."""

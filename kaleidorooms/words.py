@@ -17,12 +17,16 @@ def need_word(hall, word):
             raise BadWord(index)
 
 
+def led(hall, numbers, word):
+    """The numbers behind going through the walls of a word."""
+    for lamp in word:
+        numbers = crossed(hall, numbers, lamp)
+    return numbers
+
+
 def room_behind(hall, word):
     """The room to which a word leads."""
-    room = first_numbers(hall)
-    for lamp in word:
-        room = crossed(hall, room, lamp)
-    return room
+    return led(hall, first_numbers(hall), word)
 
 
 def go(hall, word):
@@ -49,12 +53,16 @@ def is_short(hall, word):
 
 def leads_away(hall, word):
     """Whether each letter of a word leads farther away from the first room."""
-    room = first_numbers(hall)
+    return led_away(hall, first_numbers(hall), word) is not None
+
+
+def led_away(hall, room, word):
+    """The room behind going through the walls of a word, None if one leads nearer to the first room."""
     for lamp in word:
         if room[lamp] < 0:
-            return False
+            return None
         room = crossed(hall, room, lamp)
-    return True
+    return room
 
 
 def need_short(hall, word):

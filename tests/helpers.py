@@ -122,6 +122,65 @@ def rooms_to(hall, far):
     return known
 
 
+def turned_plainly(hall, arrow, lamp):
+    """An arrow turned by a lamp, word by word as in the document."""
+    after = list(arrow)
+    after[lamp] = sum(arrow[other] * hall.pushes[lamp][other] for other in range(len(hall))) - arrow[lamp]
+    return tuple(after)
+
+
+def units_plainly(hall):
+    """All units."""
+    many = range(len(hall))
+    return [tuple(1 if at == lamp else 0 for at in many) for lamp in many]
+
+
+def all_arrows(hall):
+    """For each arrow, up or down, the least of the shortest ways by which it becomes a unit."""
+    ways = {unit: () for unit in units_plainly(hall)}
+    level = list(ways)
+    while level:
+        fresh = {}
+        for arrow in level:
+            for lamp in range(len(hall)):
+                other = turned_plainly(hall, arrow, lamp)
+                if other not in ways:
+                    fresh.setdefault(other, []).append((lamp,) + ways[arrow])
+        ways.update({arrow: min(listed) for arrow, listed in fresh.items()})
+        level = list(fresh)
+    return ways
+
+
+def words_to_rooms(hall):
+    """For each room of an ending hall, the least of the shortest words that lead to it."""
+    words = {(1,) * len(hall): ()}
+    level = list(words)
+    while level:
+        fresh = {}
+        for room in level:
+            for lamp in range(len(hall)):
+                beyond = pressed_plainly(hall, room, lamp)
+                if beyond not in words:
+                    fresh.setdefault(beyond, []).append(words[room] + (lamp,))
+        words.update({room: min(listed) for room, listed in fresh.items()})
+        level = list(fresh)
+    return words
+
+
+def rooms_by_letters(hall, word):
+    """All rooms to which some letters of a word lead, in their order, the others left out."""
+    first = (1,) * len(hall)
+    found = {first}
+    for lamp in word:
+        found |= {pressed_plainly(hall, room, lamp) for room in found}
+    return found
+
+
+def within_plainly(hall):
+    """For each room of an ending hall, the set of all rooms within it."""
+    return {room: rooms_by_letters(hall, word) for room, word in words_to_rooms(hall).items()}
+
+
 NO_INTEGERS = [None, True, False, "0", "", (), (0,), [0], {0: 0}, {}]
 
 

@@ -9,43 +9,14 @@ from kaleidorooms.halls import wings
 from kaleidorooms.rooms import distance
 from tests import arguments
 from tests.helpers import (
-    BENT, CHAIN, ENDING_HALLS, ENDLESS_HALLS, LAMP, NAMED, chain_of, dice_of, expect_error, hall_of, pressed_plainly,
-    random_numbers, try_wrongs,
+    BENT, CHAIN, ENDING_HALLS, ENDLESS_HALLS, LAMP, NAMED, all_arrows, chain_of, dice_of, expect_error, hall_of,
+    pressed_plainly, random_numbers, try_wrongs, turned_plainly, units_plainly,
 )
 
 COUNTS = {"a": lambda n: n * (n + 1) // 2, "b": lambda n: n * n, "c": lambda n: n * n, "d": lambda n: n * (n - 1)}
 COUNTS.update({"e": {6: 36, 7: 63, 8: 120}.get, "f": {4: 24}.get, "g": {2: 6}.get})
 HALLS = ENDING_HALLS + [NAMED[name] for name in (("f", 4), ("b", 4), ("c", 4), ("d", 5), ("a", 5))]
 HALLS += [hall_of(2, (0, 1, 1, 3)), hall_of(2, (0, 1, 1, 2)), hall_of(5, (0, 3, 1, 2), (1, 4, 3, 1))]
-
-
-def turned_plainly(hall, arrow, lamp):
-    """An arrow turned by a lamp, word by word as in the document."""
-    after = list(arrow)
-    after[lamp] = sum(arrow[other] * hall.pushes[lamp][other] for other in range(len(hall))) - arrow[lamp]
-    return tuple(after)
-
-
-def units_plainly(hall):
-    """All units."""
-    many = range(len(hall))
-    return [tuple(1 if at == lamp else 0 for at in many) for lamp in many]
-
-
-def all_arrows(hall):
-    """For each arrow, up or down, the least of the shortest ways by which it becomes a unit."""
-    ways = {unit: () for unit in units_plainly(hall)}
-    level = list(ways)
-    while level:
-        fresh = {}
-        for arrow in level:
-            for lamp in range(len(hall)):
-                other = turned_plainly(hall, arrow, lamp)
-                if other not in ways:
-                    fresh.setdefault(other, []).append((lamp,) + ways[arrow])
-        ways.update({arrow: min(listed) for arrow, listed in fresh.items()})
-        level = list(fresh)
-    return ways
 
 
 class Arrows(unittest.TestCase):

@@ -5,10 +5,12 @@ import unittest
 from inspect import getmembers, isfunction, signature
 
 from kaleidorooms import (
-    arrows, errors, halls, heights, loads, mirrors, moves, plays, rooms, shortwords, words,
+    arrows, belows, errors, halls, heights, loads, mirrored, mirrorrooms, mirrors, moves, plays, rising, rooms,
+    shortwords, suites, within, words,
 )
 from kaleidorooms.halls import Hall, part_of, renamed
 from tests.helpers import BENT, CHAIN, MIXED, PAIR, RING, expect_error, hall_of
+
 RIGHT = {
     halls.neighbours: [CHAIN, 0], halls.wings: [MIXED], halls.bond: [CHAIN, 0, 1], halls.part_of: [MIXED, (0, 2)],
     halls.renamed: [PAIR, (1, 0)], loads.kind: [RING, (0, 1, 2)], loads.kinds: [MIXED], loads.load: [RING, (0, 1, 2)],
@@ -31,7 +33,19 @@ RIGHT = {
     arrows.arrow_sum: [BENT, (1, 2, 1), (1, -1, 3)], mirrors.mirrors_of: [CHAIN, (-1, -1)],
     mirrors.room_of: [CHAIN, [(1, 1), (1, 0)]], mirrors.why_not: [CHAIN, [(1, 1)]],
     mirrors.shows_why: [CHAIN, [(1, 1)], [(1, 0), [0, 1], (1, 1)]], heights.heights: [BENT], heights.steps: [BENT],
-    heights.count_rooms: [BENT], heights.rooms_by_distance: [BENT],
+    heights.count_rooms: [BENT], heights.rooms_by_distance: [BENT], mirrored.mirror_word: [BENT, (2, 2, 1)],
+    mirrored.mirror_room: [BENT, (2, 2, 1)], mirrored.arrows_pressed: [CHAIN, (-1, -2), (0, 1)],
+    within.is_within: [CHAIN, (-1, 2), (-2, 1)], within.followed: [CHAIN, (-1, 2), (-2, 1), (0, 1)],
+    within.letters_for: [CHAIN, (0, 1, 0), (2, -1)], within.are_letters: [CHAIN, (0, 1, 0), (-1, 2), [[0], 1]],
+    within.greatest_by: [CHAIN, (0, 0, 1)], rising.covers: [CHAIN, (-1, -1)], rising.covered: [CHAIN, (1, 1)],
+    rising.rising: [CHAIN, (1, 1), (-1, -1)], rising.shows_rising: [CHAIN, (1, 1), (-1, 2), [[1, 1], [-1, 2]]],
+    rising.opposite: [CHAIN, (-1, 2)], belows.below: [BENT, (-1, -1, -1)], belows.series: [BENT, (-1, -1, -1)],
+    belows.between: [CHAIN, (-1, 2), (-1, -1)], belows.evens_less_odds: [CHAIN, (-1, 2), (-1, 2)],
+    belows.common_within: [CHAIN, (-2, 1), (1, -2)], belows.common_above: [CHAIN, (-1, 2), (2, -1)],
+    mirrorrooms.mirror_rooms: [BENT, (1, 1, 1)], mirrorrooms.mirrors_within: [CHAIN, (1, 1), (-2, 1)],
+    mirrorrooms.is_even_sided: [BENT, (-1, -1, -1)], suites.suite: [BENT, (-1, -1, -1), (0, 1)],
+    suites.nearest: [BENT, (-1, -1, -1), (0, 1)], suites.farthest: [BENT, (1, 1, 1), (0, 1)],
+    suites.split: [BENT, (-1, -1, -1), (0, 2)], suites.joined: [CHAIN, (1, 1), (-1,), (1,)],
 }
 NAMES = {
     "neighbours": "hall lamp", "wings": "hall", "bond": "hall one other", "part_of": "hall lamps",
@@ -48,7 +62,15 @@ NAMES = {
     "arrows": "hall", "turned_arrow": "hall arrow lamp", "way_to_unit": "hall arrow", "shows_way": "hall arrow value",
     "greatest_arrow": "hall wing", "arrow_sum": "hall arrow numbers", "mirrors_of": "hall room",
     "room_of": "hall lot", "why_not": "hall lot", "shows_why": "hall lot value", "heights": "hall", "steps": "hall",
-    "count_rooms": "hall", "rooms_by_distance": "hall",
+    "count_rooms": "hall", "rooms_by_distance": "hall", "mirror_word": "hall arrow", "mirror_room": "hall arrow",
+    "arrows_pressed": "hall start play", "is_within": "hall room other", "followed": "hall room other play",
+    "letters_for": "hall word room", "are_letters": "hall word room value", "greatest_by": "hall word",
+    "covers": "hall room", "covered": "hall room", "rising": "hall room other",
+    "shows_rising": "hall room other value", "opposite": "hall room", "below": "hall room", "series": "hall room",
+    "between": "hall room other", "evens_less_odds": "hall room other", "common_within": "hall one other",
+    "common_above": "hall one other", "mirror_rooms": "hall room", "mirrors_within": "hall room other",
+    "is_even_sided": "hall room", "suite": "hall room lamps", "nearest": "hall room lamps",
+    "farthest": "hall room lamps", "split": "hall room lamps", "joined": "hall near rest lamps",
 }
 
 
@@ -112,6 +134,8 @@ class Common(unittest.TestCase):
         moves.shows_moves(RING, (0,), (0,), value)
         arrows.shows_way(CHAIN, (1, 0), value)
         mirrors.shows_why(CHAIN, [], value)
+        within.are_letters(CHAIN, (0, 1), (1, 1), value)
+        rising.shows_rising(CHAIN, (1, 1), (1, 1), value)
         self.assertEqual([["flat"], {"a": [1]}], value)
         lot = [(1, 1), (0, 1), (1, 1)]
         expect_error(self, mirrors.room_of, [CHAIN, lot], errors.BadArrows, index=2)
