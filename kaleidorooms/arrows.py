@@ -1,7 +1,7 @@
 """Arrows: what comes from units by turnings, and points up or down (points 17 and 18)."""
 
 from kaleidorooms.errors import BadArrow, NotEnding
-from kaleidorooms.halls import is_lamp, need_hall, need_lamp, wings
+from kaleidorooms.halls import is_lamp, lamps_beside, need_hall, need_lamp, wings
 from kaleidorooms.loads import ENDING, kind_of, need_wing
 from kaleidorooms.plays import crossed, is_numbers, need_numbers
 
@@ -155,6 +155,6 @@ def greatest_arrow(hall, wing):
     """The arrow of the greatest height of those that are 0 for all lamps beside a wing."""
     need_ending(hall)
     need_wing(hall, wing)
-    beside = [lamp for lamp in range(len(hall)) if lamp not in wing]
+    beside = lamps_beside(hall, wing)
     within = [arrow for arrow in up_arrows(hall) if all([arrow[lamp] == 0 for lamp in beside])]
     return within[-1]

@@ -69,6 +69,16 @@ def need_lamp(hall, lamp):
         raise BadLamp()
 
 
+def all_lamps(hall):
+    """The ascending tuple of all lamps of a hall."""
+    return tuple(range(len(hall)))
+
+
+def lamps_beside(hall, lamps):
+    """The ascending tuple of the lamps of a hall that are none of some lamps."""
+    return tuple([lamp for lamp in range(len(hall)) if lamp not in lamps])
+
+
 def is_lamps(hall, value):
     """Whether a value is an ascending tuple of unlike lamps of a hall, perhaps empty."""
     return is_ascending(value, len(hall))
@@ -158,7 +168,7 @@ def renamed(hall, order):
 
 def need_order(hall, order):
     """Raises BadOrder for any value that is no tuple of all lamps, each once."""
-    if not is_integers(order, len(hall)) or sorted(order) != list(range(len(hall))):
+    if not is_integers(order, len(hall)) or tuple(sorted(order)) != all_lamps(hall):
         raise BadOrder()
 
 

@@ -1,6 +1,7 @@
 """Heights of arrows, the steps that they make, and rooms counted by these (point 21)."""
 
 from kaleidorooms.arrows import need_ending, up_arrows
+from kaleidorooms.halls import picked
 
 
 def heights(hall):
@@ -27,11 +28,21 @@ def steps_of(hall):
     return tuple([len([many for many in told if many >= least]) for least in range(len(hall), 0, -1)])
 
 
+def part_steps(hall, lamps):
+    """The steps of the hall of some lamps, perhaps none."""
+    return steps_of(picked(hall, lamps)) if lamps else ()
+
+
 def count_rooms(hall):
     """How many rooms there are."""
     need_ending(hall)
+    return rooms_by_steps(steps_of(hall))
+
+
+def rooms_by_steps(told):
+    """How many rooms a hall has whose steps are told."""
     many = 1
-    for step in steps_of(hall):
+    for step in told:
         many = many * (step + 1)
     return many
 
@@ -39,10 +50,15 @@ def count_rooms(hall):
 def rooms_by_distance(hall):
     """How many rooms are at the distance 0, 1 and so on."""
     need_ending(hall)
+    return tuple(distances_by_steps(steps_of(hall)))
+
+
+def distances_by_steps(told):
+    """How many rooms a hall whose steps are told has at the distance 0, 1 and so on."""
     counts = [1]
-    for step in steps_of(hall):
+    for step in told:
         counts = with_step(counts, step)
-    return tuple(counts)
+    return counts
 
 
 def with_step(counts, step):
@@ -52,3 +68,11 @@ def with_step(counts, step):
         for more in range(step + 1):
             after[far + more] = after[far + more] + many
     return after
+
+
+def without_step(counts, step):
+    """The counts of which with_step makes those that are told."""
+    before = []
+    for far in range(len(counts) - step):
+        before.append(counts[far] - sum(before[max(0, far - step):]))
+    return before

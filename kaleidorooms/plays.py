@@ -2,7 +2,7 @@
 
 from kaleidorooms.checks import is_integer_between, is_integers
 from kaleidorooms.errors import BadEnd, BadMany, BadNumbers, BadPlay, NotBelow, TooLong, TooMany
-from kaleidorooms.halls import is_lamp, need_hall, need_lamp, wings
+from kaleidorooms.halls import all_lamps, is_lamp, need_hall, need_lamp, wings
 from kaleidorooms.loads import FLAT, WILD, flat_load, is_load, is_wing, kind_by, kind_of
 
 MOST_PRESSES = 5000
@@ -218,7 +218,7 @@ def starts_to(hall, numbers, many):
         raise BadMany()
     rows = [numbers]
     for _ in range(many):
-        rows = back_from(hall, rows, range(len(hall)))
+        rows = back_from(hall, rows, all_lamps(hall))
         if len(rows) > MOST_NUMBERS:
             raise TooMany(MOST_NUMBERS)
     return rows

@@ -2,9 +2,9 @@
 
 from kaleidorooms.arrows import need_ending, signs_turned
 from kaleidorooms.errors import BadRest, NotNearest, TooMany
-from kaleidorooms.halls import need_lamps, need_some_lamps, picked
+from kaleidorooms.halls import all_lamps, need_lamps, need_some_lamps, picked
 from kaleidorooms.plays import back_from, below_lamps, crossed
-from kaleidorooms.rooms import MOST_ROOMS, need_room, play_to_first
+from kaleidorooms.rooms import MOST_ROOMS, first_numbers, need_room, play_to_first
 from kaleidorooms.words import led, room_behind
 
 
@@ -50,6 +50,11 @@ def all_back(hall, numbers, lamps):
             raise TooMany(MOST_ROOMS)
         rows = back_from(hall, rows, lamps)
     return found
+
+
+def every_room(hall):
+    """All rooms of a hall, the lesser distances first, those of one distance ascending, TooMany if too many."""
+    return all_back(hall, first_numbers(hall), all_lamps(hall))
 
 
 def suite(hall, room, lamps):

@@ -1,6 +1,6 @@
 """Halls to test with, plain second ways to work answers out, and a way to try wrong arguments."""
 
-from itertools import product
+from itertools import combinations, product
 from random import Random
 
 from kaleidorooms.errors import HallError
@@ -32,6 +32,37 @@ NAMED = {
     ("g", 2): hall_of(2, (0, 1, 3, 1)),
 }
 
+
+
+def ring_of(many):
+    """A ring of lamps with bonds of 3."""
+    return chain_of(many, (0, many - 1, 1, 1))
+
+
+def forked(many, *ties):
+    """A chain of lamps with bonds of 3, but the last one hangs on the last but two."""
+    return chain_of(many, (many - 2, many - 1, 0, 0), (many - 3, many - 1, 1, 1), *ties)
+
+
+def flat_halls():
+    """All halls that are one flat wing, but for other orders of the lamps, by V. Kac's list."""
+    yield from (hall_of(2, (0, 1, 2, 2)), hall_of(2, (0, 1, 4, 1)))
+    for many in range(3, 9):
+        yield ring_of(many)
+        first, last = (0, 1), (many - 2, many - 1)
+        for way, back in (((1, 2), (1, 2)), ((1, 2), (2, 1)), ((2, 1), (1, 2))):
+            yield chain_of(many, first + way, last + back)
+        if many >= 4:
+            yield from (forked(many, (0, 1, 1, 2)), forked(many, (0, 1, 2, 1)))
+        if many >= 5:
+            yield forked(many, (0, 1, 0, 0), (0, 2, 1, 1))
+    yield from (chain_of(3, (0, 1, 3, 1)), chain_of(3, (0, 1, 1, 3)))
+    yield from (chain_of(5, (1, 2, 2, 1)), chain_of(5, (1, 2, 1, 2)))
+    yield chain_of(7, (4, 5, 0, 0), (2, 5, 1, 1), (5, 6, 1, 1))
+    yield chain_of(8, (6, 7, 0, 0), (3, 7, 1, 1))
+
+
+FLATS = list(flat_halls())
 LAMP = Hall(((0,),))
 CHAIN = chain_of(2)
 PAIR = hall_of(2, (0, 1, 2, 2))
@@ -179,6 +210,25 @@ def rooms_by_letters(hall, word):
 def within_plainly(hall):
     """For each room of an ending hall, the set of all rooms within it."""
     return {room: rooms_by_letters(hall, word) for room, word in words_to_rooms(hall).items()}
+
+
+def lots_of_lamps(hall):
+    """All ascending tuples of lamps."""
+    return [lot for many in range(len(hall) + 1) for lot in combinations(range(len(hall)), many)]
+
+
+def suite_plainly(hall, room, lamps):
+    """All rooms to which one comes through open walls."""
+    found = {room}
+    fresh = [room]
+    while fresh:
+        last = fresh.pop()
+        for lamp in lamps:
+            beyond = pressed_plainly(hall, last, lamp)
+            if beyond not in found:
+                found.add(beyond)
+                fresh.append(beyond)
+    return found
 
 
 NO_INTEGERS = [None, True, False, "0", "", (), (0,), [0], {0: 0}, {}]

@@ -5,8 +5,8 @@ import unittest
 from inspect import getmembers, isfunction, signature
 
 from kaleidorooms import (
-    arrows, belows, errors, halls, heights, loads, mirrored, mirrorrooms, mirrors, moves, plays, rising, rooms,
-    shortwords, suites, within, words,
+    arrows, belows, blocks, errors, flats, halls, heights, loads, mirrored, mirrorrooms, mirrors, moves, plays, quotients,
+    rising, rooms, series, shortwords, suites, turnedstarts, within, words,
 )
 from kaleidorooms.halls import Hall, part_of, renamed
 from tests.helpers import BENT, CHAIN, MIXED, PAIR, RING, expect_error, hall_of
@@ -46,6 +46,15 @@ RIGHT = {
     mirrorrooms.is_even_sided: [BENT, (-1, -1, -1)], suites.suite: [BENT, (-1, -1, -1), (0, 1)],
     suites.nearest: [BENT, (-1, -1, -1), (0, 1)], suites.farthest: [BENT, (1, 1, 1), (0, 1)],
     suites.split: [BENT, (-1, -1, -1), (0, 2)], suites.joined: [CHAIN, (1, 1), (-1,), (1,)],
+    quotients.count_suites: [BENT, (0, 1)], quotients.nearest_rooms: [BENT, (0, 1)],
+    quotients.suites_by_distance: [BENT, (0, 1)], quotients.last_room: [BENT, (0, 1)],
+    quotients.count_with_home: [BENT, (0, 1)], quotients.rooms_with_home: [BENT, (0, 1)],
+    blocks.block: [BENT, (1, 1, 1), (0,), (1, 2)], blocks.block_nearest: [BENT, (-1, -1, -1), (0,), (1,)],
+    blocks.count_blocks: [BENT, (0,), (1, 2)], turnedstarts.count_numbers: [BENT, (0, -2, 1)],
+    turnedstarts.all_turned: [BENT, (0, 0, 1)], turnedstarts.number_word: [BENT, (-1, -2, 0)],
+    flats.level: [RING, (3, -2, 1)], flats.is_flat_arrow: [RING, [1, [0]]], flats.arrows_to: [RING, 4],
+    flats.repeat_of: [RING, (1, 0, 0)], flats.presses_far: [RING, (-2, 3, 0)], series.corner: [RING],
+    series.rooms_at: [RING, 9],
 }
 NAMES = {
     "neighbours": "hall lamp", "wings": "hall", "bond": "hall one other", "part_of": "hall lamps",
@@ -71,6 +80,12 @@ NAMES = {
     "common_above": "hall one other", "mirror_rooms": "hall room", "mirrors_within": "hall room other",
     "is_even_sided": "hall room", "suite": "hall room lamps", "nearest": "hall room lamps",
     "farthest": "hall room lamps", "split": "hall room lamps", "joined": "hall near rest lamps",
+    "count_suites": "hall lamps", "nearest_rooms": "hall lamps", "suites_by_distance": "hall lamps",
+    "last_room": "hall lamps", "count_with_home": "hall lamps", "rooms_with_home": "hall lamps",
+    "block": "hall room front back", "block_nearest": "hall room front back", "count_blocks": "hall front back",
+    "count_numbers": "hall numbers", "all_turned": "hall numbers", "number_word": "hall numbers",
+    "level": "hall numbers", "is_flat_arrow": "hall value", "arrows_to": "hall height", "repeat_of": "hall arrow",
+    "presses_far": "hall start", "corner": "hall", "rooms_at": "hall most",
 }
 
 
@@ -136,6 +151,7 @@ class Common(unittest.TestCase):
         mirrors.shows_why(CHAIN, [], value)
         within.are_letters(CHAIN, (0, 1), (1, 1), value)
         rising.shows_rising(CHAIN, (1, 1), (1, 1), value)
+        flats.is_flat_arrow(PAIR, value)
         self.assertEqual([["flat"], {"a": [1]}], value)
         lot = [(1, 1), (0, 1), (1, 1)]
         expect_error(self, mirrors.room_of, [CHAIN, lot], errors.BadArrows, index=2)

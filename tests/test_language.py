@@ -172,6 +172,22 @@ class Language(unittest.TestCase):
                 elif node.func.id in taking_lists:
                     self.assertFalse(any(one in generated for one in node.args), where)
 
+    def test_views_are_iterated_at_once(self):
+        takers = {"list", "tuple", "dict", "sorted", "sum", "any", "all", "enumerate", "zip", "min", "max"}
+        for file, _, tree in parsed():
+            above = {child: node for node in ast.walk(tree) for child in ast.iter_child_nodes(node)}
+            for node in ast.walk(tree):
+                name = getattr(getattr(node, "func", None), "id", getattr(getattr(node, "func", None), "attr", None))
+                if name not in {"range", "zip", "enumerate", "reversed", "items", "keys", "values"}:
+                    continue
+                user = above[node]
+                where = f"{file}:{node.lineno}"
+                if isinstance(user, (ast.For, ast.comprehension)):
+                    self.assertIs(node, user.iter, where)
+                else:
+                    self.assertIsInstance(user, ast.Call, where)
+                    self.assertIn(getattr(user.func, "id", None), takers, where)
+
     def test_strings(self):
         for file, _, tree in parsed():
             for node in ast.walk(tree):

@@ -1,7 +1,6 @@
 """Points 29 and 30: suites behind open walls, and rooms split by them."""
 
 import unittest
-from itertools import combinations
 
 from kaleidorooms import errors
 from kaleidorooms.halls import part_of
@@ -10,31 +9,12 @@ from kaleidorooms.rooms import distance, is_room
 from kaleidorooms.suites import farthest, joined, nearest, split, suite
 from tests import arguments
 from tests.helpers import (
-    BENT, CHAIN, ENDLESS_HALLS, FULL, LAMP, NAMED, Wrong, dice_of, expect_error, hall_of, led_plainly, pressed_plainly,
-    rooms_to, try_wrongs, words_to_rooms,
+    BENT, CHAIN, ENDLESS_HALLS, FULL, LAMP, NAMED, Wrong, dice_of, expect_error, hall_of, led_plainly, lots_of_lamps,
+    rooms_to, suite_plainly, try_wrongs, words_to_rooms,
 )
 
 SMALL = [LAMP, CHAIN, NAMED["b", 2], NAMED["g", 2], hall_of(2, (0, 1, 1, 3)), hall_of(3, (0, 2, 2, 1)), NAMED["a", 3]]
 SMALL += [hall_of(2), BENT]
-
-
-def lots_of_lamps(hall):
-    """All ascending tuples of lamps."""
-    return [lot for many in range(len(hall) + 1) for lot in combinations(range(len(hall)), many)]
-
-
-def suite_plainly(hall, room, lamps):
-    """All rooms to which one comes through open walls."""
-    found = {room}
-    fresh = [room]
-    while fresh:
-        last = fresh.pop()
-        for lamp in lamps:
-            beyond = pressed_plainly(hall, last, lamp)
-            if beyond not in found:
-                found.add(beyond)
-                fresh.append(beyond)
-    return found
 
 
 class Suites(unittest.TestCase):
