@@ -57,8 +57,8 @@ class Blocks(unittest.TestCase):
         dice = dice_of(32)
         for hall in (NAMED["a", 3], BENT, NAMED["d", 4]):
             for _ in range(5):
-                word = dice.choices(range(len(hall)), k=7)
-                room, turned = led_plainly(hall, (1,) * len(hall), word), led_plainly(hall, (1,) * len(hall), word[::-1])
+                word, first = dice.choices(range(len(hall)), k=7), (1,) * len(hall)
+                room, turned = led_plainly(hall, first, word), led_plainly(hall, first, word[::-1])
                 lamps = tuple([lamp for lamp in range(len(hall)) if dice.random() < 0.5])
                 self.assertEqual(suite(hall, room, lamps), block(hall, room, (), lamps))
                 self.assertEqual([room], block(hall, room, (), ()))
@@ -81,7 +81,8 @@ class Blocks(unittest.TestCase):
             self.assertEqual(1, count_blocks(hall, (), everyone))
             self.assertEqual(1, count_blocks(hall, everyone, everyone))
             self.assertEqual(many, len(block(hall, last, (), everyone)))
-            self.assertEqual((first, first), (block_nearest(hall, last, everyone, ()), block_nearest(hall, last, (), everyone)))
+            self.assertEqual(first, block_nearest(hall, last, everyone, ()))
+            self.assertEqual(first, block_nearest(hall, last, (), everyone))
 
     def test_big_blocks(self):
         hall = NAMED["d", 5]
@@ -94,7 +95,8 @@ class Blocks(unittest.TestCase):
             self.assertEqual(sorted(listed, key=lambda room: (distance(hall, room), room)), list(listed))
 
     def test_too_many(self):
-        for hall in (NAMED["e", 8], NAMED["a", 6], NAMED["b", 5], hall_of(6, (0, 1, 1, 1), (1, 2, 1, 1), (2, 3, 1, 1), (2, 4, 1, 1))):
+        beside = hall_of(6, (0, 1, 1, 1), (1, 2, 1, 1), (2, 3, 1, 1), (2, 4, 1, 1))
+        for hall in (NAMED["e", 8], NAMED["a", 6], NAMED["b", 5], beside):
             room = (1,) * len(hall)
             expect_error(self, block, [hall, room, (), ()], errors.TooMany, most=2000)
             expect_error(self, block_nearest, [hall, room, (0,), ()], errors.TooMany, most=2000)

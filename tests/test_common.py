@@ -5,8 +5,8 @@ import unittest
 from inspect import getmembers, isfunction, signature
 
 from kaleidorooms import (
-    arrows, belows, blocks, errors, flats, halls, heights, loads, mirrored, mirrorrooms, mirrors, moves, plays, quotients,
-    rising, rooms, series, shortwords, suites, turnedstarts, within, words,
+    arrows, belows, blocks, errors, flats, halls, heights, loads, mirrored, mirrorrooms, mirrors, moves, plays,
+    quotients, rising, rooms, series, shortwords, suites, turnedstarts, within, words,
 )
 from kaleidorooms.halls import Hall, part_of, renamed
 from tests.helpers import BENT, CHAIN, MIXED, PAIR, RING, expect_error, hall_of

@@ -17,7 +17,8 @@ from tests.helpers import (
 
 NOT_FLAT = [LAMP, CHAIN, STEEP, WILD_RING, MIXED, TWO_FLATS, FULL, NAMED["e", 8], hall_of(2)]
 # One flat wing beside a lamp, and two flat wings.
-NOT_FLAT += [hall_of(3, (0, 1, 2, 2)), hall_of(4, (0, 1, 2, 2), (2, 3, 4, 1))]
+NOT_FLAT += [hall_of(3, (0, 1, 2, 2)), hall_of(3, (1, 2, 2, 2)), hall_of(3, (0, 2, 4, 1))]
+NOT_FLAT += [hall_of(4, (0, 1, 2, 2), (2, 3, 4, 1)), hall_of(5, (1, 2, 1, 1), (2, 4, 1, 1), (1, 4, 1, 1))]
 BIGGEST = FLATS[-1]
 
 

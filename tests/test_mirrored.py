@@ -44,10 +44,11 @@ class Mirrored(unittest.TestCase):
         for hall in NAMED.values():
             for lamp, unit in enumerate(units_plainly(hall)):
                 self.assertEqual((lamp,), mirror_word(hall, unit))
-        word = mirror_word(NAMED["e", 8], (2, 4, 6, 5, 4, 3, 2, 3))
+        hall, greatest = NAMED["e", 8], (2, 4, 6, 5, 4, 3, 2, 3)
+        word = mirror_word(hall, greatest)
         self.assertEqual(57, len(word))
         self.assertEqual(word[::-1], word)
-        self.assertEqual(led_plainly(NAMED["e", 8], (1,) * 8, word), mirror_room(NAMED["e", 8], (2, 4, 6, 5, 4, 3, 2, 3)))
+        self.assertEqual(led_plainly(hall, (1,) * 8, word), mirror_room(hall, greatest))
 
     def test_arrows_of_all_plays(self):
         dice = dice_of(22)
