@@ -166,9 +166,14 @@ def renamed(hall, order):
     return picked(hall, order)
 
 
+def is_order(hall, value):
+    """Whether a value is a tuple of all lamps, each once."""
+    return is_integers(value, len(hall)) and tuple(sorted(value)) == all_lamps(hall)
+
+
 def need_order(hall, order):
     """Raises BadOrder for any value that is no tuple of all lamps, each once."""
-    if not is_integers(order, len(hall)) or tuple(sorted(order)) != all_lamps(hall):
+    if not is_order(hall, order):
         raise BadOrder()
 
 

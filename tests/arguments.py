@@ -104,9 +104,40 @@ def lot(hall, right, *others):
     return found
 
 
+def turn(hall, *others):
+    """Wrong values of a turn, others among them that are orders."""
+    listed = [wrong.value for wrong in order(hall)]
+    return wrongs(errors.BadTurn, unlike(listed, tuple(range(len(hall)))) + list(others))
+
+
+def prices(hall):
+    """Wrong values of prices."""
+    more = [(price,) * len(hall) for price in (-1, 10, 10 ** 30)] + [(0,) * (len(hall) - 1) + (10,)]
+    return wrongs(errors.BadPrices, [wrong.value for wrong in numbers(hall)] + more)
+
+
+def log(hall, *right):
+    """Wrong values of a log, that begin with right entries, at most five of them lost, where the index is told."""
+    many = len(hall)
+    lost = ("lost",)
+    values = [None, True, 0, -1, "", "lost", b"", [], list(right), [lost], {}, {0: lost}, (lost,) * 21, (None,) * 21]
+    found = wrongs(errors.BadLog, values, index=None)
+    things = [None, True, 0, "lost", "", (), [], ["lost"], ["pressed", 0], {}, (lost,), ("lost", 0), ("lost", ()), (0,)]
+    things += [("pressed",), ("pressed", 0, 0), ("seen", 0), ("seen",), ("seen", 0, 0, 0), ("told", 0), ("Lost",)]
+    for wrong in (None, True, False, -1, many, 10 ** 30, "0", (0,), [0], {}):
+        things += [("pressed", wrong), ("seen", wrong, 0)]
+    things += [("seen", 0, wrong) for wrong in NO_INTEGERS] + [(True, 0), (None, 0, 0), ((), 0), (["lost"],)]
+    for thing in things:
+        found += wrongs(errors.BadLog, [right + (thing,), right + (thing, None)], index=len(right))
+        found += wrongs(errors.BadLog, [(thing,) + (lost,) * 7, (thing, thing)], index=0)
+    seen = ("seen", 0, 0)
+    found += wrongs(errors.BadLog, [(lost,) * 7, (lost,) * 20, (lost,) * 6 + (None,), (lost,) * 7 + (None,)], index=6)
+    return found + wrongs(errors.BadLog, [(lost, seen) * 10, (lost, seen) * 6 + (lost, None)], index=12)
+
+
 NOT_ENDING = HALL + wrongs(errors.NotEnding, ENDLESS_HALLS + [FULL])
 
 __all__ = [
-    "HALL", "NOTHING", "NOT_ENDING", "ODD_VALUES", "Wrong", "arrow", "lamp", "lot", "many", "numbers", "order",
-    "part_lamps", "play", "room", "unlike", "wing", "word",
+    "HALL", "NOTHING", "NOT_ENDING", "ODD_VALUES", "Wrong", "arrow", "lamp", "log", "lot", "many", "numbers", "order",
+    "part_lamps", "play", "prices", "room", "turn", "unlike", "wing", "word",
 ]

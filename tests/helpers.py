@@ -182,11 +182,11 @@ def all_arrows(hall):
     return ways
 
 
-def words_to_rooms(hall):
-    """For each room of an ending hall, the least of the shortest words that lead to it."""
+def words_to_rooms(hall, far=1000):
+    """For each room up to a distance, by default of an ending hall, the least of the shortest words that lead to it."""
     words = {(1,) * len(hall): ()}
     level = list(words)
-    while level:
+    for _ in range(far):
         fresh = {}
         for room in level:
             for lamp in range(len(hall)):
@@ -210,6 +210,11 @@ def rooms_by_letters(hall, word):
 def within_plainly(hall):
     """For each room of an ending hall, the set of all rooms within it."""
     return {room: rooms_by_letters(hall, word) for room, word in words_to_rooms(hall).items()}
+
+
+def summed(one, other, times=1):
+    """The sum of two tuples of integers, the other one taken some number of times."""
+    return tuple([own + times * its for own, its in zip(one, other)])
 
 
 def lots_of_lamps(hall):

@@ -5,12 +5,15 @@ import unittest
 from inspect import getmembers, isfunction, signature
 
 from kaleidorooms import (
-    arrows, belows, blocks, errors, flats, halls, heights, loads, mirrored, mirrorrooms, mirrors, moves, plays,
-    quotients, rising, rooms, series, shortwords, suites, turnedstarts, within, words,
+    arrows, belows, blocks, errors, flats, halls, heights, loads, logs, mirrored, mirrorrooms, mirrors, moves, plays,
+    prices, quotients, rings, rising, rooms, series, shifts, shortwords, smallends, suites, turnedstarts, turning,
+    within, words,
 )
 from kaleidorooms.halls import Hall, part_of, renamed
 from tests.helpers import BENT, CHAIN, MIXED, PAIR, RING, expect_error, hall_of
 
+TWO_LAMPS = hall_of(2)
+LOG = (("lost",), ("seen", 1, -3), ("pressed", 1))
 RIGHT = {
     halls.neighbours: [CHAIN, 0], halls.wings: [MIXED], halls.bond: [CHAIN, 0, 1], halls.part_of: [MIXED, (0, 2)],
     halls.renamed: [PAIR, (1, 0)], loads.kind: [RING, (0, 1, 2)], loads.kinds: [MIXED], loads.load: [RING, (0, 1, 2)],
@@ -54,7 +57,20 @@ RIGHT = {
     turnedstarts.all_turned: [BENT, (0, 0, 1)], turnedstarts.number_word: [BENT, (-1, -2, 0)],
     flats.level: [RING, (3, -2, 1)], flats.is_flat_arrow: [RING, [1, [0]]], flats.arrows_to: [RING, 4],
     flats.repeat_of: [RING, (1, 0, 0)], flats.presses_far: [RING, (-2, 3, 0)], series.corner: [RING],
-    series.rooms_at: [RING, 9],
+    series.rooms_at: [RING, 9], shifts.shift_of: [RING, (0, 1, 2, 1)], shifts.shifted: [PAIR, (0, 1), (2, -2)],
+    shifts.shift_word: [RING, (1, 1, -2)], shifts.shift_split: [PAIR, (5, -3)], rings.ring_numbers: [RING, (1, -1, 0)],
+    rings.way_back: [RING, (1, -1, 0)], rings.comes_back: [RING, (1, -1, 0)], turning.turns: [CHAIN],
+    turning.turned_numbers: [CHAIN, (1, 0), (2, 3)], turning.turn_rings: [CHAIN, (1, 0)],
+    turning.can_fold: [CHAIN, (1, 0)], turning.folded: [TWO_LAMPS, (1, 0)],
+    turning.ring_values: [TWO_LAMPS, (1, 0), (-3, -3)], turning.spread_numbers: [TWO_LAMPS, (1, 0), (3,)],
+    turning.spread_word: [TWO_LAMPS, (1, 0), (0, 0)], turning.fixed_rooms: [CHAIN, (1, 0)],
+    turning.beside: [CHAIN, BENT], smallends.starts_of: [CHAIN, (1, 0)], smallends.is_small: [CHAIN, (1, 0)],
+    smallends.small_ends: [CHAIN], prices.cheapest: [CHAIN, (5, 1), (-1, -1)],
+    prices.dearest_short: [CHAIN, (5, 1), (-1, -1)], prices.one_price: [CHAIN, (5, 1)],
+    logs.fits: [CHAIN, (-1, -2), (0, 1), LOG], logs.plays_of: [CHAIN, (-1, -2), LOG],
+    logs.count_fits: [CHAIN, (-1, -2), LOG], logs.first_against: [CHAIN, (-1, 2), LOG],
+    logs.numbers_behind: [CHAIN, (-1, -2), LOG], logs.times_pressed: [CHAIN, (-1, -2), LOG],
+    logs.starts_told: [CHAIN, LOG, 2],
 }
 NAMES = {
     "neighbours": "hall lamp", "wings": "hall", "bond": "hall one other", "part_of": "hall lamps",
@@ -85,7 +101,16 @@ NAMES = {
     "block": "hall room front back", "block_nearest": "hall room front back", "count_blocks": "hall front back",
     "count_numbers": "hall numbers", "all_turned": "hall numbers", "number_word": "hall numbers",
     "level": "hall numbers", "is_flat_arrow": "hall value", "arrows_to": "hall height", "repeat_of": "hall arrow",
-    "presses_far": "hall start", "corner": "hall", "rooms_at": "hall most",
+    "presses_far": "hall start", "corner": "hall", "rooms_at": "hall most", "shift_of": "hall word",
+    "shifted": "hall numbers shift", "shift_word": "hall shift", "shift_split": "hall room",
+    "ring_numbers": "hall start", "way_back": "hall start", "comes_back": "hall start", "turns": "hall",
+    "turned_numbers": "hall turn numbers", "turn_rings": "hall turn", "can_fold": "hall turn", "folded": "hall turn",
+    "ring_values": "hall turn numbers", "spread_numbers": "hall turn numbers", "spread_word": "hall turn word",
+    "fixed_rooms": "hall turn", "beside": "one other", "starts_of": "hall numbers", "is_small": "hall numbers",
+    "small_ends": "hall", "cheapest": "hall prices room", "dearest_short": "hall prices room",
+    "one_price": "hall prices", "fits": "hall start play log", "plays_of": "hall start log",
+    "count_fits": "hall start log", "first_against": "hall start log", "numbers_behind": "hall start log",
+    "times_pressed": "hall start log", "starts_told": "hall log far",
 }
 
 

@@ -40,7 +40,7 @@ class Examples(unittest.TestCase):
 
     def test_examples(self):
         files = sorted(FOLDER.glob("*.txt"))
-        self.assertEqual(21, len(files))
+        self.assertEqual(27, len(files))
         for file in files:
             for block in file.read_text().split("\n\n"):
                 with self.subTest(file.stem):
