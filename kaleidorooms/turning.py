@@ -61,27 +61,16 @@ def turn_rings(hall, turn):
 
 def rings_of(turn):
     """The list that turn_rings is."""
-    rings = []
-    for lamp in turn_start(turn):
-        ring = [lamp]
-        while turn[ring[-1]] != lamp:
-            ring.append(turn[ring[-1]])
-        rings.append(tuple(sorted(ring)))
-    return rings
+    rings = [ring_with(turn, lamp) for lamp in range(len(turn))]
+    return [ring for lamp, ring in enumerate(rings) if ring[0] == lamp]
 
 
-def turn_start(turn):
-    """The least lamps of all rings of a turn, ascending."""
-    least = []
-    seen = {}
-    for lamp in range(len(turn)):
-        if lamp not in seen:
-            least.append(lamp)
-        at = lamp
-        while at not in seen:
-            seen[at] = True
-            at = turn[at]
-    return least
+def ring_with(turn, lamp):
+    """The ring of which a lamp is one."""
+    ring = [lamp]
+    while turn[ring[-1]] != lamp:
+        ring.append(turn[ring[-1]])
+    return tuple(sorted(ring))
 
 
 def can_fold(hall, turn):

@@ -5,9 +5,9 @@ import unittest
 from inspect import getmembers, isfunction, signature
 
 from kaleidorooms import (
-    arrows, belows, blocks, errors, flats, halls, heights, loads, logs, mirrored, mirrorrooms, mirrors, moves, plays,
-    prices, quotients, rings, rising, rooms, series, shifts, shortwords, smallends, suites, turnedstarts, turning,
-    within, words,
+    arrows, belows, blocks, desk, errors, flats, freelots, halls, heights, jumps, loads, logmends, logs, mirrored,
+    mirrorrooms, mirrors, moves, plays, prices, quotients, rings, rising, rooms, roundways, series, shifts, shortwords,
+    smallends, suites, texts, turnedstarts, turning, within, words,
 )
 from kaleidorooms.halls import Hall, part_of, renamed
 from tests.helpers import BENT, CHAIN, MIXED, PAIR, RING, expect_error, hall_of
@@ -70,7 +70,14 @@ RIGHT = {
     logs.fits: [CHAIN, (-1, -2), (0, 1), LOG], logs.plays_of: [CHAIN, (-1, -2), LOG],
     logs.count_fits: [CHAIN, (-1, -2), LOG], logs.first_against: [CHAIN, (-1, 2), LOG],
     logs.numbers_behind: [CHAIN, (-1, -2), LOG], logs.times_pressed: [CHAIN, (-1, -2), LOG],
-    logs.starts_told: [CHAIN, LOG, 2],
+    logs.starts_told: [CHAIN, LOG, 2], logmends.doubted: [CHAIN, (-1, -2), LOG + (("seen", 0, 9),)],
+    logmends.mended: [CHAIN, (-1, -2), LOG + (("seen", 0, 9),)], texts.write: [CHAIN, (-1, -2)],
+    texts.read: ["lamp 0 has 1 pushes 1 2\nlamp 1 has -3 pushes 0 1"], jumps.jumped: [CHAIN, ((1, 0), (0, 1))],
+    jumps.fewest_jumps: [CHAIN, (1, -2)], jumps.jump_way: [CHAIN, (1, -2)],
+    jumps.shows_jump_way: [CHAIN, (1, -2), [(0, 1), [1, 1]]], jumps.are_independent: [CHAIN, ((1, 0), (1, 1))],
+    jumps.rooms_by_jumps: [BENT], roundways.round_room: [BENT, (1, 0, 2)], roundways.on_round: [BENT, (1, 0, 2)],
+    roundways.count_round: [BENT], roundways.round_by_jumps: [BENT], freelots.is_free: [CHAIN, [(1, 0), (0, 1)]],
+    freelots.free_lots: [BENT], freelots.free_by_size: [BENT],
 }
 NAMES = {
     "neighbours": "hall lamp", "wings": "hall", "bond": "hall one other", "part_of": "hall lamps",
@@ -110,7 +117,11 @@ NAMES = {
     "small_ends": "hall", "cheapest": "hall prices room", "dearest_short": "hall prices room",
     "one_price": "hall prices", "fits": "hall start play log", "plays_of": "hall start log",
     "count_fits": "hall start log", "first_against": "hall start log", "numbers_behind": "hall start log",
-    "times_pressed": "hall start log", "starts_told": "hall log far",
+    "times_pressed": "hall start log", "starts_told": "hall log far", "doubted": "hall start log",
+    "mended": "hall start log", "write": "hall numbers", "read": "text", "jumped": "hall jumps",
+    "fewest_jumps": "hall room", "jump_way": "hall room", "shows_jump_way": "hall room value",
+    "are_independent": "hall jumps", "rooms_by_jumps": "hall", "round_room": "hall order", "on_round": "hall order",
+    "count_round": "hall", "round_by_jumps": "hall", "is_free": "hall lot", "free_lots": "hall", "free_by_size": "hall",
 }
 
 
@@ -153,6 +164,8 @@ class Common(unittest.TestCase):
 
     def test_equal_values_have_equal_answers(self):
         for function, arguments in RIGHT.items():
+            if function == texts.read:
+                continue
             hall = arguments[0]
             everyone = tuple(range(len(hall)))
             answer = plain(function(*arguments))
@@ -162,6 +175,30 @@ class Common(unittest.TestCase):
                 again = [other] + copy.deepcopy(arguments[1:])
                 self.assertEqual(answer, plain(function(*again)), function.__name__)
                 self.assertEqual(answer, plain(function(**dict(zip(signature(function).parameters, again)))))
+
+    def test_texts_of_equal_halls(self):
+        text = RIGHT[texts.read][0]
+        for again in ("".join(list(text)), text[:9] + text[9:], texts.write(*texts.read(text))):
+            self.assertEqual(texts.read(text), texts.read(again))
+            self.assertEqual(texts.read(text), texts.read(text=again))
+
+    def test_desks_of_equal_values(self):
+        pushes, numbers = [[0, 1], [1, 0]], [-1, -2]
+        for hall in (CHAIN, Hall(tuple(map(tuple, pushes)))):
+            one = desk.Desk(hall=hall, numbers=tuple(numbers))
+            one.press(lamp=0)
+            one.set_number(lamp=0, number=-7)
+            one.tie(one=0, other=1, times=2, back=1)
+            one.cross(lamp=1)
+            self.assertEqual((((0, 2), (1, 0)), (-10, 3)), (one.own_hall.pushes, one.own_numbers))
+            self.assertEqual((CHAIN, (-1, -2)), (hall, tuple(numbers)))
+
+    def test_an_object_is_equal_to_nothing_of_another_kind(self):
+        for value in (CHAIN.pushes, [[0, 1], [1, 0]], None, 2, "hall", desk.Desk(CHAIN, (1, 1))):
+            self.assertFalse(CHAIN == value)
+            self.assertTrue(CHAIN != value)
+        for value in (CHAIN, (CHAIN, (1, 1)), (1, 1), None, 0, "desk"):
+            self.assertFalse(desk.Desk(CHAIN, (1, 1)) == value)
 
     def test_a_call_that_raises_changes_nothing(self):
         numbers = [-1, -2]
@@ -177,6 +214,7 @@ class Common(unittest.TestCase):
         within.are_letters(CHAIN, (0, 1), (1, 1), value)
         rising.shows_rising(CHAIN, (1, 1), (1, 1), value)
         flats.is_flat_arrow(PAIR, value)
+        jumps.shows_jump_way(CHAIN, (1, -2), value)
         self.assertEqual([["flat"], {"a": [1]}], value)
         lot = [(1, 1), (0, 1), (1, 1)]
         expect_error(self, mirrors.room_of, [CHAIN, lot], errors.BadArrows, index=2)

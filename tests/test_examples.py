@@ -1,6 +1,8 @@
 """The examples of the document's interface, as they stand there."""
 
+import re
 import unittest
+from importlib import import_module
 from pathlib import Path
 
 from kaleidorooms import errors
@@ -40,11 +42,23 @@ class Examples(unittest.TestCase):
 
     def test_examples(self):
         files = sorted(FOLDER.glob("*.txt"))
-        self.assertEqual(27, len(files))
+        self.assertEqual(33, len(files))
         for file in files:
             for block in file.read_text().split("\n\n"):
                 with self.subTest(file.stem):
                     self.run_block(block)
+
+
+    def test_all_is_defined_where_it_is_imported_from(self):
+        many = 0
+        for file in sorted(FOLDER.glob("*.txt")):
+            for line in file.read_text().splitlines():
+                told = re.fullmatch(r">>> from (kaleidorooms\.\w+) import (.*)", line)
+                for name in told[2].split(", ") if told else ():
+                    thing = getattr(import_module(told[1]), name)
+                    self.assertEqual((told[1], name), (thing.__module__, thing.__name__))
+                    many += told[1] == f"kaleidorooms.{file.stem}"
+        self.assertGreater(many, 150)
 
 
 if __name__ == "__main__":

@@ -73,6 +73,19 @@ class Logs(unittest.TestCase):
             self.assertEqual(times, times_pressed(hall, start, log))
         self.assertGreater(fitted, 50)
 
+    def test_times_pressed_of_many_plays(self):
+        dice = dice_of(473)
+        for hall in (hall_of(4), NAMED["a", 4], BENT, hall_of(4, (0, 1, 1, 1), (2, 3, 2, 1)), RING, PAIR):
+            for _ in range(12):
+                start = tuple([dice.choice((-2, -1, -1, 0, 1)) for _ in range(len(hall))])
+                many = dice.randint(1, 4)
+                plays = [play for play, _ in all_plays(hall, start, many) if len(play) == many]
+                times = [
+                    (min(play.count(lamp) for play in plays), max(play.count(lamp) for play in plays))
+                    for lamp in range(len(hall)) if plays
+                ]
+                self.assertEqual(tuple(times) if plays else None, times_pressed(hall, start, (LOST,) * many))
+
     def test_fits(self):
         for hall, start, log in some_logs(471, times=4, most=4):
             for play, _ in all_plays(hall, start, 4):
@@ -135,6 +148,8 @@ class Logs(unittest.TestCase):
         self.assertEqual(((0, 1),) * 8, times_pressed(hall, (-1,) * 8, six))
         self.assertEqual(720, len(plays_of(hall, (-1,) * 6 + (0, 1), six)))
         self.assertEqual(1680, len(plays_of(hall, (-1,) * 8, (LOST,) * 4)))
+        even = hall_of(8, (0, 5, 2, 1), (4, 5, 1, 1), (0, 7, 1, 1))
+        self.assertEqual(2000, len(plays_of(even, (-2, 2, -1, 0, -2, -1, -3, 1), six)))
         # Too many of their beginnings fit, but few plays.
         told = six[:5] + (("seen", 0, 1), ("seen", 1, 1), ("seen", 2, 1), ("seen", 3, 1))
         self.assertEqual(4 * 120, len(plays_of(hall, (-1,) * 8, told)))

@@ -9,7 +9,9 @@ from kaleidorooms.loads import load
 from kaleidorooms.plays import presses
 from kaleidorooms.rooms import distance, is_room
 from kaleidorooms.series import corner
-from kaleidorooms.shifts import shift_of, shift_split, shift_word, shifted
+from kaleidorooms.shifts import (
+    echelon, is_whole_sum, place_of, shift_of, shift_split, shift_word, shifted,
+)
 from tests import arguments
 from tests.helpers import (
     FLATS, LEAN, PAIR, RING, chain_of, dice_of, expect_error, led_plainly, pressed_plainly, random_numbers, ring_of,
@@ -253,6 +255,36 @@ class ShiftSplit(unittest.TestCase):
         self.assertEqual(room, led_plainly(hall, (1,) * 8, word))
         pair = shift_split(ring_of(4), led_plainly(ring_of(4), (1,) * 4, (3, 2, 3, 1)))
         self.assertEqual(((0,) * 4, (2, 3, 2, 1)), pair)
+
+
+class Echelons(unittest.TestCase):
+    """What tells whether some word has a shift."""
+
+    def test_places(self):
+        dice = dice_of(384)
+        for _ in range(200):
+            many, size = dice.randint(0, 6), dice.randint(1, 5)
+            rows = [tuple([dice.randint(-6, 6) for _ in range(size)]) for _ in range(many)]
+            found = echelon(rows)
+            places = [place_of(row) for row in found]
+            self.assertEqual(sorted(set(places)), places)
+            for row in rows:
+                self.assertIs(True, is_whole_sum(found, row))
+            mixed = (0,) * size
+            for row in rows:
+                mixed = summed(mixed, row, dice.randint(-10 ** 6, 10 ** 6))
+            self.assertIs(True, is_whole_sum(found, mixed))
+
+    def test_whole_sums(self):
+        rows = [(2, 0), (3, 1), (0, 4)]
+        # 3 - 2 is 1, and 2 of these less the first are (0, 2).
+        for value in product(range(-5, 6), repeat=2):
+            sums = [(2 * a + 3 * b, b + 4 * c) for a in range(-20, 21) for b in range(-9, 10) for c in range(-4, 5)]
+            self.assertIs(value in sums, is_whole_sum(echelon(rows), value))
+        self.assertIs(False, is_whole_sum(echelon([(4, 0), (6, 0)]), (1, 0)))
+        self.assertIs(True, is_whole_sum(echelon([(4, 0), (6, 0)]), (-2, 0)))
+        self.assertIs(False, is_whole_sum([], (0, 1)))
+        self.assertIs(True, is_whole_sum([], (0, 0)))
 
 
 class WrongArguments(unittest.TestCase):

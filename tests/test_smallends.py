@@ -14,8 +14,8 @@ from tests.helpers import (
     try_wrongs, wrongs,
 )
 
-SMALL = [LAMP, CHAIN, NAMED["b", 2], NAMED["g", 2], hall_of(2, (0, 1, 1, 3)), hall_of(2), hall_of(3, (0, 2, 2, 1)), BENT]
-SMALL += [NAMED["a", 3], NAMED["c", 3], NAMED["a", 4], NAMED["d", 4], hall_of(4, (0, 3, 1, 1), (1, 2, 1, 1))]
+SMALL = [LAMP, CHAIN, NAMED["b", 2], NAMED["g", 2], hall_of(2, (0, 1, 1, 3)), hall_of(2), hall_of(3, (0, 2, 2, 1))]
+SMALL += [BENT, NAMED["a", 3], NAMED["c", 3], NAMED["a", 4], NAMED["d", 4], hall_of(4, (0, 3, 1, 1), (1, 2, 1, 1))]
 BIG = NAMED["e", 8]
 
 

@@ -48,8 +48,8 @@ def with_turns():
     pairs = [(hall, turn) for hall in SMALL for turn in turns_plainly(hall)]
     pairs += [(NAMED["a", many], tuple(range(many))[::-1]) for many in (5, 6, 7, 8)]
     pairs += [(NAMED["d", many], tuple(range(many - 2)) + (many - 1, many - 2)) for many in (5, 6, 8)]
-    pairs += [(NAMED["e", 6], (4, 3, 2, 1, 0, 5)), (CHAINS, (2, 3, 4, 5, 6, 7, 0, 1)), (CHAINS, (3, 2, 1, 0, 5, 4, 6, 7))]
-    pairs += [(CHAINS, (2, 3, 4, 5, 6, 7, 1, 0)), (BIG, tuple(range(8)))]
+    pairs += [(NAMED["e", 6], (4, 3, 2, 1, 0, 5)), (CHAINS, (2, 3, 4, 5, 6, 7, 0, 1))]
+    pairs += [(CHAINS, (3, 2, 1, 0, 5, 4, 6, 7)), (CHAINS, (2, 3, 4, 5, 6, 7, 1, 0)), (BIG, tuple(range(8)))]
     return pairs
 
 
@@ -193,7 +193,8 @@ class FixedRooms(unittest.TestCase):
     def test_against_all_rooms(self):
         for hall, turn in PAIRS:
             if count_rooms(hall) <= 1200:
-                fixed = [room for room in rooms_to(hall, 100) if all(room[lamp] == room[at] for at, lamp in enumerate(turn))]
+                rooms = rooms_to(hall, 100)
+                fixed = [room for room in rooms if all(room[lamp] == room[at] for at, lamp in enumerate(turn))]
                 self.assertEqual(sorted(fixed), fixed_rooms(hall, turn))
 
     def test_rooms_of_the_folded_hall(self):
@@ -262,7 +263,8 @@ class WrongArguments(unittest.TestCase):
         turn, others = (0, 2, 3, 1), [(1, 0, 2, 3), (3, 2, 1, 0), (1, 2, 3, 0)]
         bad = arguments.turn(FORK, *others)
         folding = bad
-        short = wrongs(errors.BadNumbers, arguments.unlike(arguments.ODD_VALUES) + [[1, 2], (1,), (1, 2, 3), (1, 2, 3, 4)])
+        lengths = [[1, 2], (1,), (1, 2, 3), (1, 2, 3, 4)]
+        short = wrongs(errors.BadNumbers, arguments.ODD_VALUES + lengths)
         more = wrongs(errors.BadNumbers, [(1, True), (None, 1), ("1", 2), ((1,), 2), "12", {0: 1, 1: 2}, (1, [2])])
         small = folded(FORK, turn)
         try_wrongs(self, turns, (FORK,), [halls])
